@@ -348,7 +348,7 @@ def bundle_(b):
     tuple_(b, 8, 8)
     word(b[0], "bundle")
     _, told, entry, needs, wants, starts, exports, bodies = b
-    if told != "" or type(told) is not str:
+    if type(told) is not str or told != "":
         name(told)
     needs_(needs, told)
     wants_(wants)
