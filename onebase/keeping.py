@@ -21,7 +21,8 @@ def reached(web, firsts, barred):
     found = {knot: True for knot in firsts if knot != barred}
     waiting = list(found)
     while waiting:
-        for knot in leads_in(web, waiting.pop()):
+        here = waiting.pop()
+        for knot in leads_in(web, here):
             if knot != barred and knot not in found:
                 found[knot] = True
                 waiting.append(knot)

@@ -44,6 +44,11 @@ class IsBundleTest(unittest.TestCase):
             ("li", None, True), ("li", 0, False), ("open", None, False),
         ):
             self.assertIs(is_bundle(HAND[:1] + (name, entry) + HAND[3:]), right)
+        code_alone = (body("code", (("stop",),)),)
+        for entry in (-1, 0, 1):
+            self.assertIs(is_bundle(("bundle", "", entry, (), (), (), (), code_alone)), entry == 0)
+            self.assertIs(is_bundle(("bundle", "", 0, (), (), (entry,), (), code_alone)), entry == 0)
+            self.assertIs(is_bundle(("bundle", "", 0, (), (), (), (("a", entry),), code_alone)), entry == 0)
 
     def test_names_and_needs(self):
         for name, needs, right in (

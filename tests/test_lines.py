@@ -126,6 +126,9 @@ class LineErrorsTest(unittest.TestCase):
             self.assertEqual(raised(f, line, ("library", "li")), ("BadGoal", {}))
             self.assertEqual(raised(f, line, ("library", "lo"))[0], "told")
             self.assertEqual(raised(f, line=line, goal=("program", "main"))[0], "told")
+            # A program's entry may be called as a card is.
+            entry = (item(made("e", code("li"))), library("li"))
+            self.assertEqual(raised(f, entry, ("program", "li"))[0], "told")
 
     def test_no_library(self):
         for f in TAKING_LINES:

@@ -268,6 +268,18 @@ class GrownTest(unittest.TestCase):
             told = {(c, m + (c == b and m >= n)) for c, m in grown(bundle)}
             self.assertLessEqual(told, set(grown(wider)))
 
+    def test_growth_by_bodies(self):
+        for bundle in made_up(40, 6000, most=99):
+            for b in range(len(bundle[7]) + 1):
+                held = []
+                for one in bundle[7]:
+                    held.append(one[:3] + (tuple(
+                        (r[0], r[1] + (r[1] >= b)) + r[2:] if r[0] in ("call", "try", "jump") and not by_name(r) else r
+                        for r in one[3]),))
+                held.insert(b, ("body", "code", (("v", "new"),), (SHOW, ("copy", 0, 1), END)))
+                wider = bundle[:2] + (0 + (b == 0),) + bundle[3:7] + (tuple(held),)
+                self.assertLessEqual({(c + (c >= b), n) for c, n in grown(bundle)}, set(grown(wider)))
+
     def test_default(self):
         for bundle in made_up(5):
             self.assertEqual(grown(bundle), grown(bundle, ()))
