@@ -1,7 +1,6 @@
 """What objects define and what they lead to."""
 
-from onebase.errors import BadObject
-from onebase.objects import unit_in
+from onebase.objects import unit_of
 from onebase.rows import length
 from onebase.units import uses
 
@@ -11,10 +10,7 @@ LINE_SORTS = {"code": "code", "table": "table", "const": "cells", "data": "data"
 
 def defined(thing):
     """BadObject; the ascending (name, sort, length, gives) of all that the object defines."""
-    unit = unit_in(thing)
-    if unit is None:
-        raise BadObject("no object")
-    return defined_by(unit)
+    return defined_by(unit_of(thing))
 
 
 def defined_by(unit):
@@ -28,10 +24,7 @@ def defined_by(unit):
 
 def led(thing):
     """BadObject; the ascending (name, spare) of all that the object leads to."""
-    unit = unit_in(thing)
-    if unit is None:
-        raise BadObject("no object")
-    return led_by(unit)
+    return led_by(unit_of(thing))
 
 
 def led_by(unit):

@@ -153,8 +153,8 @@ def exports_of(goal, cards, chosen):
 def wants_of(goal, spares, chosen, worths):
     wants = []
     for x in sorted(spares):
-        # What a library shows may be hidden by another image that is ahead
-        # of it, so its own members ask for it by slot, too.
+        # Another image ahead of the library may export what the library
+        # shows, so its own members ask for that by slot, too.
         if x not in chosen or (goal[0] == "library" and chosen[x][1][3] == "open"):
             sort, many = worths[x]
             wants.append((x, sort, many, spares[x]))
