@@ -6,7 +6,7 @@ from onebase.kinds import (
     are_different, is_number, is_one_of, is_rising, is_tagged, is_tuple_of, is_word, within,
 )
 from onebase.lines import are_needs, are_wants, cards_in
-from onebase.naming import naming
+from onebase.naming import named_of
 from onebase.rows import SORTS, asks, has_body_form, is_served, reaches, suits, with_leads
 from onebase.webs import is_lead, web_from
 from onebase.words import is_name
@@ -100,13 +100,13 @@ def check_bundle(bundle):
 
 def bundle_of(line, goal):
     """The errors of naming, and TooMany(200) of webs; the bundle of the folded web."""
-    return bundle_from(naming(line, goal), cards_in(line))
+    named, parts = named_of(line, goal)
+    return bundle_from(named, web_from(named, parts), cards_in(line))
 
 
-def bundle_from(named, cards):
-    """As bundle_of, of the line's naming and its cards."""
-    _, goal, members, table, exports, wants = named
-    web = web_from(named)
+def bundle_from(named, web, cards):
+    """As bundle_of, of the line's naming, its web and its cards."""
+    _, goal, members, table, wants, exports = named
     lots = bodies_in(web)
     made, index = bodies_from(web, lots, [part[1] for part in members])
     mains = {knot: index[body] for knot, body in mains_of(lots).items()}

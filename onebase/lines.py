@@ -2,8 +2,7 @@
 
 from onebase.errors import BadGoal, BadLine, NoLibrary
 from onebase.kinds import are_different, is_rising, is_tagged, is_tuple_of, within
-from onebase.objects import unit_in
-from onebase.units import unit_faults
+from onebase.parts import part_in
 from onebase.words import is_name
 
 # The least and the greatest length that cards tell of each sort.
@@ -12,38 +11,67 @@ LENGTHS = {"code": (0, 0), "table": (1, 16), "cells": (1, 64), "data": (1, 64)}
 
 def is_line(thing):
     """Whether any value is a line."""
-    if not is_tuple_of(thing, is_item):
-        return False
-    units = []
-    archives = []
-    cards = []
+    return line_in(thing) is not None
+
+
+def line_in(thing):
+    """Pairs (item, shelves) of the items of a line, None for any value that is none.
+
+    Shelves are lists of objects taken apart: one for an object or an archive,
+    one for each archive of a round, none for a library.
+    """
+    if not isinstance(thing, tuple):
+        return None
+    read = []
     for item in thing:
-        units.extend([made[1] for made in objects_in(item)])
-        archives.extend([archive[1] for archive in archives_in(item)])
-        if item[0] == "library":
-            cards.append(item[1][1])
-    return are_different(units) and are_different(archives) and are_different(cards)
+        shelves = shelves_in(item)
+        if shelves is None:
+            return None
+        read.append((item, shelves))
+    units = [part.unit[1] for part in parts_in(read)]
+    archives = [archive[1] for item in thing for archive in archives_in(item)]
+    cards = [card[1] for card in cards_in(thing)]
+    if are_different(units) and are_different(archives) and are_different(cards):
+        return read
+    return None
 
 
-def is_item(thing):
-    if is_tagged(thing, "object", 2):
-        return is_sound(thing[1])
-    if is_tagged(thing, "round", 2):
-        return is_tuple_of(thing[1], is_archive)
+def shelves_in(thing):
+    """The shelves of any value, None if it is no item."""
     if is_tagged(thing, "library", 2):
-        return is_card(thing[1])
-    return is_archive(thing)
+        return [] if is_card(thing[1]) else None
+    if is_tagged(thing, "object", 2):
+        held = [shelf_in(thing[1:])]
+    elif is_archive(thing):
+        held = [shelf_in(thing[2])]
+    elif is_tagged(thing, "round", 2) and is_tuple_of(thing[1], is_archive):
+        held = [shelf_in(archive[2]) for archive in thing[1]]
+    else:
+        return None
+    return None if None in held else held
 
 
 def is_archive(thing):
-    return (is_tagged(thing, "archive", 3) and is_name(thing[1])
-            and is_tuple_of(thing[2], is_sound))
+    """Whether any value has the form of an archive, whatever its objects are."""
+    return is_tagged(thing, "archive", 3) and is_name(thing[1])
 
 
-def is_sound(thing):
-    """Whether any value is the object of a sound unit."""
-    unit = unit_in(thing)
-    return unit is not None and unit_faults(unit) == ()
+def shelf_in(things):
+    """The objects of sound units, taken apart; None if there is anything else."""
+    if not isinstance(things, tuple):
+        return None
+    found = []
+    for made in things:
+        part = part_in(made)
+        if part is None or not part.is_sound():
+            return None
+        found.append(part)
+    return found
+
+
+def parts_in(read):
+    """All objects of the pairs that line_in tells."""
+    return [part for _, shelves in read for shelf in shelves for part in shelf]
 
 
 def archives_in(item):
@@ -53,16 +81,6 @@ def archives_in(item):
     if item[0] == "round":
         return list(item[1])
     return []
-
-
-def objects_in(item):
-    """The objects of an item, in order."""
-    if item[0] == "object":
-        return [item[1]]
-    found = []
-    for archive in archives_in(item):
-        found.extend(archive[2])
-    return found
 
 
 def cards_in(line):
@@ -119,9 +137,10 @@ def is_told_piece(x, sort, many):
     return within(many, low, high)
 
 
-def check_line(line, goal):
-    """BadLine, BadGoal, NoLibrary: what is raised ahead of all else for a line and goal."""
-    if not is_line(line):
+def read_line(line, goal):
+    """BadLine, BadGoal, NoLibrary: what is raised ahead of all else; the pairs of line_in."""
+    read = line_in(line)
+    if read is None:
         raise BadLine("no line")
     cards = cards_in(line)
     names = [card[1] for card in cards]
@@ -131,3 +150,4 @@ def check_line(line, goal):
         for x in card[2]:
             if x not in names:
                 raise NoLibrary(x)
+    return read

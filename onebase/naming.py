@@ -1,36 +1,40 @@
 """Naming: to which piece each name of a line leads."""
 
-from onebase.asking import LINE_SORTS, led_by, own_names, wanted_by
 from onebase.errors import (
     BadMember, BadName, BadNaming, Missing, TooShort, TwoSorts, TwoStrong, WrongSort,
 )
-from onebase.kinds import is_tagged, is_tuple_of, within
-from onebase.lines import cards_in, check_line, is_goal
-from onebase.objects import is_object, unit_in
-from onebase.rows import length, reaches, suits
+from onebase.kinds import is_tagged, within
+from onebase.lines import cards_in, is_goal, read_line
+from onebase.objects import unit_in
+from onebase.parts import LINE_SORTS, worth_of
+from onebase.rows import reaches, suits
 from onebase.taking import taken
-from onebase.units import uses
+from onebase.units import asked_in
 from onebase.words import is_name
 
 
 def naming(line, goal):
     """TwoStrong, TwoSorts, Missing, WrongSort, TooShort; the naming of the line."""
-    check_line(line, goal)
-    parts = taken(line, goal)
-    units = [unit_in(made) for made in parts]
+    return named_of(line, goal)[0]
+
+
+def named_of(line, goal):
+    """As naming: the pair of the naming and its members, taken apart."""
+    parts = taken(read_line(line, goal), goal)
     cards = cards_in(line)
-    definers = definitions(units)
+    definers = definitions([part.unit for part in parts])
     refuse_doubles(definers)
-    refuse_missing(goal, units, cards, definers)
+    spares = spare_names(parts)
+    refuse_missing(goal, spares, cards, definers)
     chosen = {x: chosen_of(definers[x]) for x in definers}
     if goal[0] == "program" and chosen[goal[1]][1][2] != "code":
         raise WrongSort(None, None, goal[1])
-    spares = spare_names(units)
     table = table_of(chosen, spares, cards)
     worths = worths_of(table, chosen)
-    refuse_uses(units, worths)
-    exports = exports_of(goal, cards, chosen)
-    return ("naming", goal, parts, table, exports, wants_of(goal, spares, chosen, worths))
+    refuse_uses(parts, worths)
+    made = tuple([part.made for part in parts])
+    wants = wants_of(goal, spares, chosen, worths)
+    return ("naming", goal, made, table, wants, exports_of(goal, cards, chosen)), parts
 
 
 def definitions(units):
@@ -57,15 +61,11 @@ def refuse_doubles(definers):
             raise TwoSorts(x)
 
 
-def refuse_missing(goal, units, cards, definers):
+def refuse_missing(goal, spares, cards, definers):
     exported = {x: True for card in cards for x, _, _ in card[3]}
-    missing = {}
-    for unit in units:
-        for x in wanted_by(unit):
-            if x not in definers and x not in exported:
-                missing[x] = True
-    if goal[0] == "program" and goal[1] not in definers:
-        missing[goal[1]] = True
+    missing = [x for x in spares if not spares[x] and x not in definers and x not in exported]
+    if goal[0] == "program" and goal[1] not in definers and goal[1] not in missing:
+        missing.append(goal[1])
     if missing:
         raise Missing(tuple(sorted(missing)))
 
@@ -82,11 +82,11 @@ def chosen_of(pairs):
     return [pair for pair in rooms if pair[1][5] == longest][0]
 
 
-def spare_names(units):
+def spare_names(parts):
     """By all names that members lead to, whether it is a spare of all of these."""
     spares = {}
-    for unit in units:
-        for x, spare in led_by(unit):
+    for part in parts:
+        for x, spare in part.spares().items():
             spares[x] = spare and spares.get(x, True)
     return spares
 
@@ -118,35 +118,35 @@ def worths_of(table, chosen):
         if place[0] == "slot":
             worths[x] = (place[1], place[2])
         else:
-            _, _, sort, _, _, body = chosen[x][1]
-            worths[x] = (LINE_SORTS[sort], length(sort, body))
+            worths[x] = worth_of(chosen[x][1])
     return worths
 
 
-def refuse_uses(units, worths):
-    for unit in units:
-        own = own_names(unit)
-        for piece in unit[4]:
-            for x, word, k in uses(piece):
-                if x not in own:
-                    refuse_use(unit[1], piece[1], x, word, k, worths[x])
+def refuse_uses(parts, worths):
+    for part in parts:
+        for piece, asked in zip(part.unit[4], part.asked):
+            bad = [(x, word, k) for _, word, x, k in asked
+                   if x not in part.own and not is_met(word, k, worths[x])]
+            if bad:
+                x, word, _ = min(bad)
+                if not suits(word, worths[x][0]):
+                    raise WrongSort(part.unit[1], piece[1], x)
+                raise TooShort(part.unit[1], piece[1], x)
 
 
-def refuse_use(unit, piece, x, word, k, worth):
+def is_met(word, k, worth):
+    """Whether what has this sort and length is what the word asks for."""
     sort, many = worth
-    if not suits(word, sort):
-        raise WrongSort(unit, piece, x)
-    if not reaches(word, k, many):
-        raise TooShort(unit, piece, x)
+    return suits(word, sort) and reaches(word, k, many)
 
 
 def exports_of(goal, cards, chosen):
     wanted = {x: True for card in cards for x, _, _, _ in card[4]}
     exports = []
     for x in sorted(chosen):
-        _, _, sort, reach, _, body = chosen[x][1]
-        if reach == "open" and (goal[0] == "library" or x in wanted):
-            exports.append((x, LINE_SORTS[sort], length(sort, body)))
+        piece = chosen[x][1]
+        if piece[3] == "open" and (goal[0] == "library" or x in wanted):
+            exports.append((x,) + worth_of(piece))
     return tuple(exports)
 
 
@@ -163,41 +163,47 @@ def wants_of(goal, spares, chosen, worths):
 
 def leads_to(named, m, x):
     """BadNaming, BadMember, BadName; the place to which the name of a member leads."""
-    if not is_naming(named):
+    units = units_in(named)
+    if units is None:
         raise BadNaming("no naming")
-    _, goal, parts, table, _, _ = named
+    _, goal, _, table, _, _ = named
     if m is None and goal[0] == "program":
         if not is_name(x) or x != goal[1]:
             raise BadName("not the entry")
         return place_in(table, x)
-    if not within(m, 0, len(parts) - 1):
+    if not within(m, 0, len(units) - 1):
         raise BadMember("no number of a member")
-    unit = unit_in(parts[m])
-    if not is_name(x) or x not in names_in(unit):
-        raise BadName("no name of this member")
-    if x in own_names(unit):
+    reach = reach_in(units[m], x) if is_name(x) else None
+    if reach == "own":
         return ("piece", m)
+    if reach is None and (not is_name(x) or not is_asked(units[m], x)):
+        raise BadName("no name of this member")
     place = place_in(table, x)
     if place[0] == "slot":
         return ("slot",)
-    if goal[0] == "library" and reach_in(unit_in(parts[place[1]]), x) == "open":
+    if goal[0] == "library" and chosen_reach(units[place[1]], x) == "open":
         return ("slot",)
     return place
 
 
-def is_naming(thing):
-    """Whether any value has the form of a naming."""
+def units_in(thing):
+    """The members' units of any value that has the form of a naming, otherwise None."""
     if not is_tagged(thing, "naming", 6) or not is_goal(thing[1]):
-        return False
-    return is_tuple_of(thing[2], is_object) and all(isinstance(part, tuple) for part in thing[3:])
+        return None
+    for part in thing[2:]:
+        if not isinstance(part, tuple):
+            return None
+    units = [unit_in(made) for made in thing[2]]
+    return None if None in units else units
 
 
-def names_in(unit):
-    """A dict of the names of the unit's pieces, and of those that they lead to."""
-    names = {piece[1]: True for piece in unit[4]}
-    for x, _ in led_by(unit):
-        names[x] = True
-    return names
+def is_asked(unit, x):
+    """Whether a piece of the unit leads to the name."""
+    for held in asked_in(unit):
+        for _, _, name, _ in held:
+            if name == x:
+                return True
+    return False
 
 
 def place_in(table, x):
@@ -208,7 +214,15 @@ def place_in(table, x):
 
 
 def reach_in(unit, x):
+    """The reach of the unit's piece of this name, None if it has none."""
     for piece in unit[4]:
         if piece[1] == x:
             return piece[3]
-    raise BadNaming("the table leads to a member without the name")
+    return None
+
+
+def chosen_reach(unit, x):
+    reach = reach_in(unit, x)
+    if reach is None:
+        raise BadNaming("the table leads to a member without the name")
+    return reach

@@ -1,16 +1,27 @@
 """Objects: units whose code is cells, with holes for what is not known yet."""
 
-from onebase.codes import instruction, sense_in, size_of
+from onebase.codes import instruction, size_of
 from onebase.errors import BadObject, BadUnit
-from onebase.kinds import is_cell, is_one_of, is_tagged, is_word, same
-from onebase.rows import ROWS
-from onebase.units import is_unit
+from onebase.kinds import is_number, is_tagged, is_word, within
+from onebase.rows import LAST_WORDS, ROWS, has_body_form
+from onebase.units import holds_together, is_head, is_unit
+from onebase.words import is_name
 
 # Rows of these words lead nowhere: their sense is the row itself.
 PLAIN = ("set", "copy", "plus", "less", "ask", "show", "alike", "leap", "return", "stop", "fail")
 
-# An instruction of a plain word has no more cells than this.
-MOST_PLAIN_CELLS = 4
+# By their codes plain words, and the greatest values of their parts.
+PLAIN_PARTS = {
+    1: ("set", (3, 63)), 2: ("copy", (3, 3)), 3: ("plus", (3, 3)), 4: ("less", (3, 3)),
+    5: ("ask", (3,)), 6: ("show", (3,)), 13: ("alike", (3, 1, 1)), 20: ("leap", (1,)),
+    21: ("return", ()), 22: ("stop", ()), 23: ("fail", (62,)),
+}
+
+# By the words of near holes the greatest values of their cells, and of k.
+NEAR_PARTS = {
+    "load": ((3,), 63), "store": ((3,), 63), "item": ((3, 3), 0), "fill": ((3, 3), 0),
+    "take": ((1,), 0), "pick": ((1, 3), 0),
+}
 
 
 def assembled(unit):
@@ -72,59 +83,118 @@ def unit_in(thing):
         return None
     pieces = []
     for chunk in thing[4]:
-        if not isinstance(chunk, tuple) or len(chunk) != 5:
+        piece = piece_in(chunk)
+        if piece is None:
             return None
-        pieces.append(("piece",) + chunk[:4] + (body_in(chunk),))
-    unit = ("unit",) + thing[1:4] + (tuple(pieces),)
-    # What was read back may be told otherwise, a cell as True or a hole for
-    # a plain row: only what the unit is assembled to is its object.
-    if is_unit(unit) and same(object_from(unit), thing):
+        pieces.append(piece)
+    unit = ("unit", thing[1], thing[2], thing[3], tuple(pieces))
+    if holds_together(unit):
         return unit
     return None
 
 
-def body_in(chunk):
-    """The body that a chunk tells, of no right form if the chunk has none."""
-    if not is_word(chunk[1], "code") or not isinstance(chunk[4], tuple):
-        return chunk[4]
-    items = chunk[4]
+def piece_in(chunk):
+    """The piece of which any value is the chunk, None if it is none of any."""
+    if not isinstance(chunk, tuple) or len(chunk) != 5:
+        return None
+    name, sort, reach, force, body = chunk
+    if not is_head(name, sort, reach, force):
+        return None
+    if sort == "code":
+        body = rows_in(body)
+        if body is None:
+            return None
+    elif not has_body_form(sort, body, is_name):
+        return None
+    return ("piece", name, sort, reach, force, body)
+
+
+def rows_in(items):
+    """The rows of code of which any value has the items, None if it is none of any."""
+    if not isinstance(items, tuple):
+        return None
     rows = []
     at = 0
     while at < len(items):
-        row, many = row_in(items, at)
+        if isinstance(items[at], tuple):
+            row = row_in_hole(items[at])
+            at += 1
+        else:
+            row = plain_row(items, at)
+            # A plain row has as many parts as its instruction has cells.
+            at += 0 if row is None else len(row)
         if row is None:
             return None
         rows.append(row)
-        at += many
+    if not 1 <= len(rows) <= 40 or rows[-1][0] not in LAST_WORDS or not lead_within(rows):
+        return None
     return tuple(rows)
 
 
-def row_in(items, at):
-    """The row that begins at an item, None if none does, and how many items it has."""
-    if isinstance(items[at], tuple):
-        return row_in_hole(items[at]), 1
-    cells = []
-    for item in items[at:at + MOST_PLAIN_CELLS]:
-        if not is_cell(item):
-            break
-        cells.append(item)
-    here = sense_in(cells, 0) if cells else None
-    if here is None or here[0][0] not in PLAIN:
-        return None, 0
-    return here
+def lead_within(rows):
+    """Whether all numbers of rows that rows tell are those of rows."""
+    many = len(rows)
+    for row in rows:
+        if row[0] in ("if", "goto", "try") and not 0 <= row[-1] < many:
+            return False
+    return True
+
+
+def plain_row(items, at):
+    """The plain row that begins at an item, None if none does."""
+    code = items[at]
+    if not is_number(code) or code not in PLAIN_PARTS:
+        return None
+    word, greatest = PLAIN_PARTS[code]
+    parts = items[at + 1:at + 1 + len(greatest)]
+    if len(parts) < len(greatest):
+        return None
+    for part, high in zip(parts, greatest):
+        if not isinstance(part, int) or isinstance(part, bool) or not 0 <= part <= high:
+            return None
+    return (word,) + parts
 
 
 def row_in_hole(hole):
-    if is_tagged(hole, "branch", 4) and isinstance(hole[3], tuple) and len(hole[3]) == 2:
-        _, word, also, (_, aim) = hole
-        if is_word(word, "if"):
-            return (word, also, aim)
-        if is_word(word, "try"):
-            return (word, aim, also)
-        return (word, aim)
-    if is_tagged(hole, "near", 5) and isinstance(hole[2], tuple) and hole[2]:
-        _, word, cells, x, k = hole
-        if is_one_of(word, ("load", "store")):
-            return (word, cells[0], x, k)
-        return (word, cells[0], x) + cells[1:]
+    """The row of which a tuple is the hole, None if it is none of any.
+
+    Whether there is a row of the number that it tells is not asked yet.
+    """
+    if len(hole) == 4:
+        tag, word, also, target = hole
+        if isinstance(tag, str) and tag == "branch" and isinstance(word, str):
+            return branch_row(word, also, target)
+    elif len(hole) == 5:
+        tag, word, cells, x, k = hole
+        if isinstance(tag, str) and tag == "near" and isinstance(word, str):
+            return near_row(word, cells, x, k)
     return None
+
+
+def branch_row(word, also, target):
+    if not isinstance(target, tuple) or len(target) != 2:
+        return None
+    kind, aim = target
+    if is_word(kind, "name") and is_name(aim):
+        if word == "call" or word == "jump":
+            return (word, aim) if also is None else None
+        return (word, aim, also) if word == "try" and is_number(also) else None
+    if is_word(kind, "row") and is_number(aim):
+        if word == "goto":
+            return (word, aim) if also is None else None
+        return (word, also, aim) if word == "if" and within(also, 0, 3) else None
+    return None
+
+
+def near_row(word, cells, x, k):
+    if word not in NEAR_PARTS or not isinstance(cells, tuple) or not is_name(x):
+        return None
+    greatest, most = NEAR_PARTS[word]
+    if len(cells) != len(greatest) or not within(k, 0, most):
+        return None
+    for cell, high in zip(cells, greatest):
+        if not within(cell, 0, high):
+            return None
+    # Only load and store tell a k of their own.
+    row = (word, cells[0], x)
+    return row + (k,) if most > 0 else row + cells[1:]

@@ -18,6 +18,12 @@ ROWS = {
     "return": "", "stop": "", "fail": "f",
 }
 
+# At which index the rows that lead somewhere have their lead.
+LEAD_SPOTS = {
+    "load": 2, "store": 2, "item": 2, "fill": 2, "take": 2, "pick": 2, "call": 1, "try": 1,
+    "jump": 1,
+}
+
 LAST_WORDS = ("goto", "jump", "return", "stop", "fail")
 
 CODE_WORDS = ("call", "try", "jump", "take", "item of")
@@ -44,7 +50,10 @@ def has_row_form(thing, many, is_lead):
     letters = ROWS[thing[0]]
     if len(thing) != 1 + len(letters):
         return False
-    return all(is_part(part, letter, many, is_lead) for part, letter in zip(thing[1:], letters))
+    for part, letter in zip(thing[1:], letters):
+        if not is_part(part, letter, many, is_lead):
+            return False
+    return True
 
 
 def is_code_body(thing, is_lead):
@@ -78,18 +87,14 @@ def length(sort, body):
 
 def lead_spot(word):
     """At which index rows of this word have their lead, None if they have none."""
-    at = ROWS[word].find("x")
-    if at < 0:
-        return None
-    return at + 1
+    return LEAD_SPOTS.get(word)
 
 
 def lead_in(row):
     """What a row leads to, None if it leads nowhere."""
-    at = lead_spot(row[0])
-    if at is None:
-        return None
-    return row[at]
+    if row[0] in LEAD_SPOTS:
+        return row[LEAD_SPOTS[row[0]]]
+    return None
 
 
 def asks(sort, body):
@@ -103,16 +108,11 @@ def asks(sort, body):
         return []
     found = []
     for at, row in enumerate(body):
-        lead = lead_in(row)
-        if lead is not None:
-            found.append((at, row[0], lead, cell_asked(row)))
+        word = row[0]
+        if word in LEAD_SPOTS:
+            k = row[3] if word in ("load", "store") else 0
+            found.append((at, word, row[LEAD_SPOTS[word]], k))
     return found
-
-
-def cell_asked(row):
-    if row[0] in ("load", "store"):
-        return row[3]
-    return 0
 
 
 def suits(word, sort):

@@ -1,35 +1,31 @@
 """Which objects of a line become members."""
 
-from onebase.asking import defined_by, wanted_by
-from onebase.lines import archives_in, check_line
-from onebase.objects import unit_in
+from onebase.lines import read_line
 
 
 def members(line, goal):
     """BadLine, BadGoal, NoLibrary; the objects that became members, in that order."""
-    check_line(line, goal)
-    return taken(line, goal)
+    return tuple([part.made for part in taken(read_line(line, goal), goal)])
 
 
-def taken(line, goal):
-    """As members, of a line and goal that are known to be right."""
+def taken(read, goal):
+    """The members, taken apart, of what read_line told of the line."""
     taking = Taking(goal)
-    for item in line:
+    for item, shelves in read:
         if item[0] == "object":
-            taking.take(item[1], unit_in(item[1]))
+            taking.take(shelves[0][0])
         elif item[0] == "library":
             taking.pass_card(item[1])
         else:
-            take_round(taking, archives_in(item))
-    return tuple(taking.taken)
+            take_round(taking, shelves)
+    return taking.taken
 
 
-def take_round(taking, archives):
+def take_round(taking, shelves):
     """Goes through archives in turn until a whole turn brings no member.
 
     An archive alone may be gone through so, too: its second turn brings none.
     """
-    shelves = [[(made, unit_in(made)) for made in archive[2]] for archive in archives]
     many = -1
     while many < len(taking.taken):
         many = len(taking.taken)
@@ -49,12 +45,12 @@ class Taking:
         self.exported = {}
         self.wanted = {}
 
-    def take(self, made, unit):
-        self.taken.append(made)
-        self.chosen[unit[1]] = True
-        for x, _, _, _ in defined_by(unit):
-            self.defined[x] = True
-        for x in wanted_by(unit):
+    def take(self, part):
+        self.taken.append(part)
+        self.chosen[part.unit[1]] = True
+        for piece in part.shown():
+            self.defined[piece[1]] = True
+        for x in part.wants():
             self.wanted[x] = True
 
     def pass_card(self, card):
@@ -69,11 +65,14 @@ class Taking:
 
     def take_first(self, shelf):
         """Takes the first object that gives an open name; whether there was one."""
-        for made, unit in shelf:
-            if unit[1] not in self.chosen and self.brings(unit):
-                self.take(made, unit)
+        for part in shelf:
+            if part.unit[1] not in self.chosen and self.brings(part):
+                self.take(part)
                 return True
         return False
 
-    def brings(self, unit):
-        return any(gives and self.is_sought(x) for x, _, _, gives in defined_by(unit))
+    def brings(self, part):
+        for piece in part.shown():
+            if piece[4] == "strong" and self.is_sought(piece[1]):
+                return True
+        return False

@@ -1,13 +1,11 @@
 """Webs: the pieces of one image, told by numbers."""
 
-from onebase.asking import led_by, own_names
 from onebase.errors import BadKnot, BadWeb, TooMany
 from onebase.kinds import (
     are_different, are_numbers_below, is_number, is_one_of, is_rising, is_tagged, is_tuple_of,
     within,
 )
-from onebase.naming import naming
-from onebase.objects import unit_in
+from onebase.naming import named_of
 from onebase.rows import SORTS, asks, has_body_form, is_served, with_leads
 from onebase.words import is_name
 
@@ -59,47 +57,47 @@ def leads_well(knot, knots):
 
 def web_of(line, goal):
     """The errors of naming, TooMany(200); the web of the line."""
-    return web_from(naming(line, goal))
+    named, parts = named_of(line, goal)
+    return web_from(named, parts)
 
 
-def web_from(named):
-    """As web_of, of the line's naming."""
-    _, goal, parts, table, exports, wants = named
-    units = [unit_in(made) for made in parts]
+def web_from(named, parts):
+    """As web_of, of the line's naming and its members, taken apart."""
+    _, goal, _, table, wants, exports = named
     places = {x: place for x, place in table}
-    pieces = pieces_in(units, places)
+    pieces = pieces_in(parts, places)
     if len(pieces) > MOST_KNOTS:
         raise TooMany(MOST_KNOTS)
     spots = {(m, piece[1]): number for number, (m, piece) in enumerate(pieces)}
     by_slot = {x: True for x, _, _, _ in wants}
-    aims = [aims_of(m, unit, spots, places, by_slot) for m, unit in enumerate(units)]
+    aims = [aims_of(m, part, spots, places, by_slot) for m, part in enumerate(parts)]
     knots = tuple([knot_from(m, piece, aims[m]) for m, piece in pieces])
     outs = [spots[(places[x][1], x)] for x, _, _ in exports]
     roots = {out: True for out in outs}
-    for m, unit in enumerate(units):
-        for x in unit[3]:
+    for m, part in enumerate(parts):
+        for x in part.unit[3]:
             roots[spots[(m, x)]] = True
     if goal[0] == "program":
         roots[spots[(places[goal[1]][1], goal[1])]] = True
     return ("web", tuple(sorted(roots)), tuple(sorted(outs)), knots)
 
 
-def pieces_in(units, places):
+def pieces_in(parts, places):
     """Pairs (member, piece) of all but the definitions that were not chosen."""
     pieces = []
-    for m, unit in enumerate(units):
-        for piece in unit[4]:
+    for m, part in enumerate(parts):
+        for piece in part.unit[4]:
             if piece[3] == "own" or places[piece[1]][1] == m:
                 pieces.append((m, piece))
     return pieces
 
 
-def aims_of(m, unit, spots, places, by_slot):
+def aims_of(m, part, spots, places, by_slot):
     """By the names that a member leads to the lead that stands for each in webs."""
     aims = {}
-    for x, _ in led_by(unit):
+    for x in part.spares():
         aims[x] = x if x in by_slot else spots[(places[x][1], x)]
-    for x in own_names(unit):
+    for x in part.own:
         aims[x] = spots[(m, x)]
     return aims
 

@@ -20,7 +20,7 @@ METHODS = set(
     "append clear copy count endswith extend find get index insert isalnum isalpha isdigit islower "
     "isspace isupper items join keys ljust lower lstrip partition pop remove replace reverse rfind "
     "rjust rpartition rsplit rstrip setdefault split splitlines startswith strip update upper "
-    "values zfill bit_length".split()
+    "values zfill bit_length isascii".split()
 )
 CHANGING = set("append clear extend insert pop remove reverse setdefault update sort".split())
 NOWHERE = set("register mro elements open input law version_info with_traceback add_note".split())

@@ -140,7 +140,7 @@ def naming(line, goal):
         (x, *worth[x], all(x in o[2] for o in taken if x in led(o)))
         for x in {y for o in taken for y in led(o)}
         if x not in chosen or (goal[0] == "library" and chosen[x][1][3] == "open"))
-    return ("naming", goal, taken, tuple(sorted(table.items())), tuple(exports), tuple(wants))
+    return ("naming", goal, taken, tuple(sorted(table.items())), tuple(wants), tuple(exports))
 
 
 def check_uses(taken, worth):
@@ -190,7 +190,7 @@ def changed(sort, body, lead):
 
 def web_of(line, goal):
     named = naming(line, goal)
-    _, _, taken, table, exports, _ = named
+    _, _, taken, table, _, exports = named
     spots = [(m, p) for m, o in enumerate(taken) for p in pieces_of(o)
              if p[3] == "own" or dict(table)[p[1]] == ("piece", m)]
     if len(spots) > 200:

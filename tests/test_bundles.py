@@ -213,12 +213,12 @@ class BundleOfTest(unittest.TestCase):
         number = {web[3][k][1]: k for k in range(len(web[3]))}
         self.assertEqual(bundle[1], "" if goal[0] == "program" else goal[1])
         self.assertEqual(bundle[3], tuple(c[1] for c in plainlink.cards_of(line)))
-        self.assertEqual(bundle[4], named[5])
+        self.assertEqual(bundle[4], named[4])
         self.assertEqual(bundle[5], tuple(
             place[first[number[(m, x)]]] for m, o in enumerate(named[2]) for x in o[3]))
         chosen = lambda x: number[(dict(named[3])[x][1], x)]
         self.assertEqual(bundle[6], tuple(
-            (x, place[chosen(x) if sort == "code" else first[chosen(x)]]) for x, sort, _ in named[4]))
+            (x, place[chosen(x) if sort == "code" else first[chosen(x)]]) for x, sort, _ in named[5]))
         if goal[0] == "program":
             self.assertEqual(bundle[2], place[first[chosen(goal[1])]])
         for n, k in enumerate(at):

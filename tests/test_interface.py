@@ -37,7 +37,7 @@ MODULES = {
 }
 
 # Modules that the interface does not list, and behind which of its own they come.
-FURTHER = {"kinds": "errors", "rows": "words"}
+FURTHER = {"kinds": "errors", "rows": "words", "parts": "objects"}
 
 
 def order():

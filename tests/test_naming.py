@@ -211,8 +211,8 @@ class NamingTest(unittest.TestCase):
             ("c", ("slot", "code", 0, False)), ("d", ("slot", "data", 2, False)), ("f", ("piece", 1)),
             ("main", ("piece", 0)), ("r", ("piece", 1)), ("s", ("slot", "code", 0, True)),
             ("v", ("slot", "code", 0, True)),
-        ), (("f", "code", 0),), (
-            ("c", "code", 0, False), ("d", "data", 2, False), ("s", "code", 0, True), ("v", "code", 0, True))))
+        ), (("c", "code", 0, False), ("d", "data", 2, False), ("s", "code", 0, True), ("v", "code", 0, True)),
+            (("f", "code", 0),)))
 
     def test_whole_library(self):
         a = made("a", calls("f", "g", "h"), calls("h", "s", reach="hidden"), piece("k", "const", (1, 2)), spares=("s",))
@@ -220,8 +220,8 @@ class NamingTest(unittest.TestCase):
         self.assertEqual(named(a, b, goal=LIB), ("naming", LIB, (a, b), (
             ("f", ("piece", 0)), ("g", ("piece", 1)), ("h", ("piece", 0)), ("k", ("piece", 0)),
             ("s", ("slot", "code", 0, True)),
-        ), (("f", "code", 0), ("g", "code", 0), ("k", "cells", 2)), (
-            ("g", "code", 0, False), ("k", "cells", 2, False), ("s", "code", 0, True))))
+        ), (("g", "code", 0, False), ("k", "cells", 2, False), ("s", "code", 0, True)),
+            (("f", "code", 0), ("g", "code", 0), ("k", "cells", 2))))
 
     def test_spare_of_all_that_lead(self):
         one = made("o", calls("main", "s"), spares=("s",))
@@ -232,24 +232,24 @@ class NamingTest(unittest.TestCase):
             line = line_of(*things) + (has,)
             if one is things[0]:
                 self.assertEqual(dict(naming(line, MAIN)[3])["s"], ("slot", "code", 0, spare))
-            self.assertEqual(dict((w[0], w) for w in naming(line, LIB)[5])["s"], ("s", "code", 0, spare))
+            self.assertEqual(dict((w[0], w) for w in naming(line, LIB)[4])["s"], ("s", "code", 0, spare))
         # A library that has it itself asks for it by slot all the same.
         line = line_of(one, also, made("r", code("s")))
-        self.assertEqual(dict((w[0], w) for w in naming(line, LIB)[5])["s"], ("s", "code", 0, True))
-        self.assertEqual(naming(line, MAIN)[5], ())
+        self.assertEqual(dict((w[0], w) for w in naming(line, LIB)[4])["s"], ("s", "code", 0, True))
+        self.assertEqual(naming(line, MAIN)[4], ())
 
     def test_exports(self):
         u = made("u", code("main"), code("f"), code("h", reach="hidden"), code("o", reach="own"),
                  piece("t", "table", (None,)), piece("r", "room", 7), piece("d", "data", (1,), force="weak"))
-        self.assertEqual(named(u, goal=LIB)[4], (
+        self.assertEqual(named(u, goal=LIB)[5], (
             ("d", "data", 1), ("f", "code", 0), ("main", "code", 0), ("r", "data", 7), ("t", "table", 1)))
-        self.assertEqual(named(u)[4], ())
+        self.assertEqual(named(u)[5], ())
         wants = tuple((x, "code", 0, True) for x in ("f", "h", "o", "x"))
         line = line_of(u) + (("library", card("li", (), (), wants)),)
-        self.assertEqual(naming(line, MAIN)[4], (("f", "code", 0),))
+        self.assertEqual(naming(line, MAIN)[5], (("f", "code", 0),))
         # What is chosen decides on the reach.
         weak = made("w", piece("h", "code", (("return",),), "open", "weak"))
-        self.assertNotIn("h", [e[0] for e in named(u, weak, goal=LIB)[4]])
+        self.assertNotIn("h", [e[0] for e in named(u, weak, goal=LIB)[5]])
 
     def test_names_that_nothing_defines_are_told_by_the_first_card(self):
         u = made("u", calls("main", "s"), spares=("s",))
@@ -264,7 +264,7 @@ class NamingTest(unittest.TestCase):
         for first, other in (("cells", "data"), ("data", "cells")):
             line = (library("li", (), (("x", first, 4),)), item(u), library("lo", (), (("x", other, 5),)))
             self.assertEqual(dict(naming(line, MAIN)[3])["x"], ("slot", first, 4, False))
-            self.assertEqual(naming(line, MAIN)[5], (("x", first, 4, False),))
+            self.assertEqual(naming(line, MAIN)[4], (("x", first, 4, False),))
 
     def test_made_up(self):
         kinds = collections.Counter()

@@ -1,6 +1,6 @@
 import unittest
 
-from onebase.words import KEPT, is_name
+from onebase.words import BARRED, KEPT, is_name
 from tests import plain
 from tests.support import WEIRD
 
@@ -15,6 +15,7 @@ class WordsTest(unittest.TestCase):
     def test_kept(self):
         self.assertIs(type(KEPT), tuple)
         self.assertEqual(KEPT, tuple(TOLD.split(", ")))
+        self.assertEqual(tuple(BARRED), KEPT)
 
     def test_names(self):
         for name in ("a", "z", "main", "abcdefgh", "zzzzzzzz", "opens", "ope", "cells", "strong", "piece"):
