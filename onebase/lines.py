@@ -28,12 +28,16 @@ def line_in(thing):
         if shelves is None:
             return None
         read.append((item, shelves))
-    units = [part.unit[1] for part in parts_in(read)]
-    archives = [archive[1] for item in thing for archive in archives_in(item)]
-    cards = [card[1] for card in cards_in(thing)]
-    if are_different(units) and are_different(archives) and are_different(cards):
-        return read
-    return None
+    return read if are_told_apart(read) else None
+
+
+def are_told_apart(read):
+    """Whether units, archives and cards have different names, of what line_in reads."""
+    items = [item for item, _ in read]
+    units = [part.unit[1] for _, shelves in read for shelf in shelves for part in shelf]
+    archives = [archive[1] for item in items for archive in archives_in(item)]
+    cards = [card[1] for card in cards_in(items)]
+    return are_different(units) and are_different(archives) and are_different(cards)
 
 
 def shelves_in(thing):
@@ -67,11 +71,6 @@ def shelf_in(things):
             return None
         found.append(part)
     return found
-
-
-def parts_in(read):
-    """All objects of the pairs that line_in tells."""
-    return [part for _, shelves in read for shelf in shelves for part in shelf]
 
 
 def archives_in(item):
@@ -143,11 +142,26 @@ def read_line(line, goal):
     if read is None:
         raise BadLine("no line")
     cards = cards_in(line)
-    names = [card[1] for card in cards]
-    if not is_goal(goal) or (goal[0] == "library" and goal[1] in names):
+    if not is_goal_beside(cards, goal):
         raise BadGoal("no goal of this line")
+    x = lacking_in(cards)
+    if x is not None:
+        raise NoLibrary(x)
+    return read
+
+
+def is_goal_beside(cards, thing):
+    """Whether any value is a goal for a line with these cards."""
+    if not is_goal(thing):
+        return False
+    return thing[0] == "program" or thing[1] not in [card[1] for card in cards]
+
+
+def lacking_in(cards):
+    """The first name that a card needs and none of them has, None if there is none."""
+    names = {card[1]: True for card in cards}
     for card in cards:
         for x in card[2]:
             if x not in names:
-                raise NoLibrary(x)
-    return read
+                return x
+    return None

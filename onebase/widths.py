@@ -68,23 +68,28 @@ class Layout:
             return b, row[-1]
         return lead_in(row), 0
 
-    def distance(self, number, flags):
+    def distance(self, number, sums):
+        """The distance of a branch; sums tells how many are long ahead of each."""
         b, n = self.lot[number]
         body, row = self.aim((b, n))
         short = self.starts[body][row] - self.starts[b][n + 1]
-        ahead = self.ahead[body][row]
-        if ahead > number:
-            return short + sum(flags[number + 1:ahead])
-        return short - sum(flags[ahead:number + 1])
+        return short + sums[self.ahead[body][row]] - sums[number + 1]
 
-    def is_far(self, number, flags):
+    def is_far(self, number, sums):
         low, high = LIMITS["d"]
-        return not low <= self.distance(number, flags) <= high
+        return not low <= self.distance(number, sums) <= high
 
     def far(self, flags):
         """The numbers of the short branches that are far."""
-        return [number for number in range(len(self.lot))
-                if flags[number] == 0 and self.is_far(number, flags)]
+        sums = sums_of(flags)
+        return [number for number, flag in enumerate(flags)
+                if flag == 0 and self.is_far(number, sums)]
+
+    def places(self, flags):
+        """For each code body the starts of its rows and its end."""
+        sums = sums_of(flags)
+        return [[at + sums[many] for at, many in zip(starts, ahead)]
+                for starts, ahead in zip(self.starts, self.ahead)]
 
     def has(self, thing):
         """Whether any value is a branch of the bundle."""
@@ -105,6 +110,14 @@ class Layout:
         return tuple([self.lot[number] for number in numbers])
 
 
+def sums_of(flags):
+    """How many flags there are ahead of each one, and in all."""
+    sums = [0]
+    for flag in flags:
+        sums.append(sums[-1] + flag)
+    return sums
+
+
 def layout_of(bundle):
     check_bundle(bundle)
     return Layout(bundle)
@@ -118,11 +131,7 @@ def branches(bundle):
 def places(bundle, long):
     """BadBundle, BadLot; for each code body the starts of its rows and its end."""
     layout = layout_of(bundle)
-    flags = layout.flags_of(long)
-    found = []
-    for starts, ahead in zip(layout.starts, layout.ahead):
-        found.append(tuple([at + sum(flags[:many]) for at, many in zip(starts, ahead)]))
-    return tuple(found)
+    return tuple([tuple(rows) for rows in layout.places(layout.flags_of(long))])
 
 
 def distance(bundle, long, branch):
@@ -131,7 +140,7 @@ def distance(bundle, long, branch):
     flags = layout.flags_of(long)
     if not layout.has(branch):
         raise BadBranch("no branch of the bundle")
-    return layout.distance(layout.number[branch], flags)
+    return layout.distance(layout.number[branch], sums_of(flags))
 
 
 def far(bundle, long):
@@ -174,7 +183,7 @@ def is_forced(bundle, thing):
     flags = layout.flags_of(())
     for branch in thing:
         number = layout.number[branch]
-        if not layout.is_far(number, flags):
+        if not layout.is_far(number, sums_of(flags)):
             return False
         flags[number] = 1
     return not layout.far(flags)

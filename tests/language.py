@@ -20,8 +20,12 @@ METHODS = set(
     "append clear copy count endswith extend find get index insert isalnum isalpha isdigit islower "
     "isspace isupper items join keys ljust lower lstrip partition pop remove replace reverse rfind "
     "rjust rpartition rsplit rstrip setdefault split splitlines startswith strip update upper "
-    "values zfill bit_length isascii".split()
+    "values zfill bit_length isascii removeprefix".split()
 )
+# Own methods may not have the names of other methods of builtin values than those.
+OF_BUILTINS = {
+    x for kind in (str, int, list, dict, set, bytes, tuple) for x in dir(kind) if x[:2] != "__"
+} - METHODS - {"add", "discard"}
 CHANGING = set("append clear extend insert pop remove reverse setdefault update sort".split())
 NOWHERE = set("register mro elements open input law version_info with_traceback add_note".split())
 NOT_AS_NAMES = NOWHERE | set(
@@ -438,5 +442,7 @@ def check_attributes(f, methods, attributes):
         own = {m.name for m in node.body if isinstance(m, ast.FunctionDef)}
         stored = {n.attr for n in ast.walk(node)
                   if isinstance(n, ast.Attribute) and isinstance(n.ctx, ast.Store)}
+        if own & OF_BUILTINS:
+            yield node.lineno, "a method with a name of a builtin value's method"
         if own & stored:
             yield node.lineno, "a name that is a method and an attribute"

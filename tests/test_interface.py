@@ -34,10 +34,21 @@ MODULES = {
         "far": "bundle, long", "grown": "bundle, long=()", "waves": "bundle",
         "is_forced": "bundle, thing", "forced": "bundle",
     },
+    "images": {"image_with": "bundle, long", "image_of": "bundle", "linked": "line, goal"},
+    "readback": {"is_image": "thing", "read_back": "image", "long_in": "image"},
+    "texts": {
+        "read_unit": "text", "unit_text": "unit", "finished": "text", "row_at": "text, piece, n",
+        "fault_rows": "text",
+    },
+    "apart": {"taken_apart": "image"},
+    "carrying": {"covers": "line, goal, thing", "carries": "line, goal, thing"},
+    "cutting": {"cut": "web, knot", "roads_apart": "web, knot"},
+    "deeds": {"is_deed": "thing", "after": "line, goal, deed"},
+    "listings": {"listing": "image"},
 }
 
 # Modules that the interface does not list, and behind which of its own they come.
-FURTHER = {"kinds": "errors", "rows": "words", "parts": "objects"}
+FURTHER = {"kinds": "errors", "rows": "words", "parts": "objects", "readings": "readback"}
 
 
 def order():
