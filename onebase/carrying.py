@@ -1,12 +1,11 @@
 """The judge of images: whether one does what the names of a line do."""
 
 from onebase.bundles import is_bundle
-from onebase.errors import NotLinked
 from onebase.folding import TELLING
 from onebase.kinds import is_number
 from onebase.lines import cards_in
 from onebase.naming import named_of
-from onebase.readback import is_image, read_image
+from onebase.readback import is_image, told_by
 from onebase.rows import lead_in, lead_spot
 from onebase.webs import web_from
 
@@ -20,13 +19,8 @@ def covers(line, goal, thing):
 def carries(line, goal, thing):
     """The errors of naming; whether any value is an image of a bundle that covers them."""
     cover = Cover(line, goal)
-    if not is_image(thing):
-        return False
-    try:
-        bundle = read_image(thing)[0]
-    except NotLinked:
-        return False
-    return cover.takes(bundle)
+    told = told_by(thing) if is_image(thing) else None
+    return told is not None and cover.takes(told[0])
 
 
 class Cover:

@@ -140,11 +140,6 @@ def are_row_starts(thing, start, end):
     return thing[0] == start and is_rising(thing)
 
 
-def check_image(image):
-    if not is_image(image):
-        raise BadImage("no image")
-
-
 def read_back(image):
     """BadImage, NotLinked; the bundle of which the image is."""
     return read_image(image)[0]
@@ -157,16 +152,25 @@ def long_in(image):
 
 def read_image(image):
     """BadImage, NotLinked; the pair of the bundle and of what is long."""
-    check_image(image)
+    if not is_image(image):
+        raise BadImage("no image")
+    told = told_by(image)
+    if told is None:
+        raise NotLinked("no image of a bundle")
+    return told
+
+
+def told_by(image):
+    """As read_image, of an image that is known to be right; None if it is of no bundle."""
     bundle, long = Reading(image).told()
     if bundle is None or not is_bundle(bundle):
-        raise NotLinked("no image of a bundle")
+        return None
     layout = Layout(bundle)
     flags = layout.flags_of(long)
     # What was read may tell less than the image does: it counts only if laying
     # it out gives the very image again.
     if layout.far(flags) or image_from(bundle, layout, flags) != image:
-        raise NotLinked("no image of the bundle that it tells")
+        return None
     return bundle, long
 
 

@@ -3,7 +3,7 @@
 from onebase.errors import BadIndex, BadPiece, BadRows, BadText, BadUnit
 from onebase.kinds import within
 from onebase.readings import Reading, is_text, part_word
-from onebase.units import is_unit, unit_faults
+from onebase.units import asked_in, faults_in, is_unit, own_pieces
 from onebase.words import is_name
 
 # How many numbers, names or nones a row of a body has.
@@ -86,7 +86,8 @@ def fault_rows(text):
     """The errors of read_unit; pairs (row of the text, fault) of the unit's faults."""
     reading = read_whole(text)
     found = []
-    for fault in unit_faults(reading.unit()):
+    unit = reading.unit()
+    for fault in faults_in(unit, asked_in(unit), own_pieces(unit)):
         _, _, piece, at = fault
         found.append((reading.spots[piece][at], fault))
     return tuple(found)

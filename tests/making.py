@@ -200,3 +200,37 @@ def one_bundle(rng, most=4, rows=40, often=2.5):
         bodies.append(("body", "code", (("u", "k" + chr(97 + b)),), tuple(held)))
     wants = (("x", "code", 0, True), ("y", "data", 2, False))
     return ("bundle", "", 0, (), wants, (), (), tuple(bodies))
+
+
+def full_bundle(rng, most=3, rows=6, library=False):
+    """A bundle with bodies of all sorts, leads by index and by name."""
+    wants = (("xc", "code", 0, True), ("xd", "data", 3, False), ("xk", "cells", 2, False), ("xt", "table", 2, False))
+    sorts = ["code"] * rng.randrange(1, most + 1)
+    for sort in ORDER[1:]:
+        sorts += [sort] * rng.randrange(0, 3)
+    many = len(sorts)
+    sizes = [rng.choice((1, 2, 3, 64)) if s != "table" else rng.randrange(1, 4) for s in sorts]
+    named = {"code": "xc", "data": "xd", "cells": "xk", "table": "xt"}
+
+    def lead(word):
+        asked = plain.ASKED.get(word, ())
+        found = [k for k in range(many) if sorts[k] in asked] + [named[s] for s in asked if s in named]
+        return rng.choice(found) if found else None
+
+    while True:
+        bodies = []
+        for k, sort in enumerate(sorts):
+            held = one_body(rng, sort, lead, rows)
+            if sort in ("const", "data"):
+                held = tuple(rng.randrange(64) for _ in range(sizes[k]))
+            elif sort == "room":
+                held = sizes[k]
+            elif sort == "code":
+                held = tuple(("goto", 0) if r == ("jump", k) else r for r in held)
+            bodies.append(("body", sort, (("u", "k" + chr(97 + k)),), held))
+        starts = tuple(rng.randrange(sorts.count("code")) for _ in range(rng.randrange(0, 3)))
+        exports = tuple((x, rng.randrange(many)) for x in ("ea", "eb") if rng.random() < 0.4)
+        name, entry = ("lz", None) if library else ("", rng.randrange(sorts.count("code")))
+        bundle = ("bundle", name, entry, ("lo", "le")[:rng.randrange(3)], wants, starts, exports, tuple(bodies))
+        if plain.is_bundle(bundle):
+            return bundle

@@ -8,6 +8,9 @@ from unittest import mock
 from onebase import naming as naming_module
 from onebase import objects, parts
 from onebase.bundles import bundle_of
+from onebase.carrying import carries, covers
+from onebase.deeds import after
+from onebase.images import linked
 from onebase.lines import is_line
 from onebase.naming import leads_to, naming
 from onebase.objects import assembled
@@ -44,8 +47,10 @@ class SpeedTest(unittest.TestCase):
 
     def test_each_object_is_taken_apart_once(self):
         line, goal = long_line()
-        for f in (members, naming, web_of, bundle_of):
+        for f in (members, naming, web_of, bundle_of, linked):
             self.assertEqual(self.taken_apart(f, line, goal), 6, f)
+        for f, thing in ((covers, bundle_of(line, goal)), (carries, linked(line, goal)), (after, ("take", 1))):
+            self.assertEqual(self.taken_apart(f, line, goal, thing), 6, f)
         self.assertEqual(self.taken_apart(is_line, line), 6)
         named = naming(line, goal)
         for m, x in ((None, "paa"), (0, "paa"), (0, "pba"), (5, "paa")):
