@@ -20,8 +20,13 @@ def naming(line, goal):
 
 def named_of(line, goal):
     """As naming: the pair of the naming and its members, taken apart."""
-    parts = taken(read_line(line, goal), goal)
-    cards = cards_in(line)
+    return named_from(read_line(line, goal), goal)
+
+
+def named_from(read, goal):
+    """As named_of, of what read_line told of the line."""
+    parts = taken(read, goal)
+    cards = cards_in([item for item, _ in read])
     definers = definitions([part.unit for part in parts])
     refuse_doubles(definers)
     spares = spare_names(parts)

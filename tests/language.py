@@ -207,7 +207,8 @@ def check_nodes(f):
             if node.exc is not None and not (called(node.exc) or "")[:1].isupper():
                 yield line, "raise of what is not created on the spot"
         if isinstance(node, ast.ExceptHandler):
-            if not isinstance(node.type, ast.Name) or node.type.id in vars(builtins):
+            named = node.type.elts if isinstance(node.type, ast.Tuple) and node.type.elts else [node.type]
+            if not all(isinstance(x, ast.Name) and x.id not in vars(builtins) for x in named):
                 yield line, "a handler that names no own error"
         if isinstance(node, ast.FormattedValue) and node.format_spec is not None:
             yield line, "a format"
@@ -422,6 +423,13 @@ def check_tables(f, tables):
             yield node.lineno, f"{node.id} is passed on or changed"
 
 
+def is_class_name(node, above):
+    """Whether the node is part of a name's `.__class__.__name__`."""
+    if node.attr == "__class__":
+        return isinstance(node.value, ast.Name) and isinstance(above, ast.Attribute) and above.attr == "__name__"
+    return node.attr == "__name__" and isinstance(node.value, ast.Attribute) and node.value.attr == "__class__"
+
+
 def check_attributes(f, methods, attributes):
     for node in ast.walk(f.tree):
         if not isinstance(node, ast.Attribute):
@@ -436,7 +444,7 @@ def check_attributes(f, methods, attributes):
         elif as_call:
             if node.attr not in METHODS | methods and node.attr != "__init__":
                 yield node.lineno, f"{node.attr} is no method that is let"
-        elif node.attr not in attributes:
+        elif node.attr not in attributes and not is_class_name(node, above):
             yield node.lineno, f"{node.attr} is no attribute, or a method passed on"
     for node in f.classes:
         own = {m.name for m in node.body if isinstance(m, ast.FunctionDef)}

@@ -45,6 +45,33 @@ MODULES = {
     "cutting": {"cut": "web, knot", "roads_apart": "web, knot"},
     "deeds": {"is_deed": "thing", "after": "line, goal, deed"},
     "listings": {"listing": "image"},
+    "loading": {
+        "card_of": "image", "scope": "program, libraries", "beginnings": "program, libraries",
+        "bindings": "program, libraries", "is_let": "program, libraries",
+        "are_bases": "program, libraries, thing", "bases_for": "program, libraries",
+        "memory": "program, libraries, bases=None",
+    },
+    "meaning": {
+        "is_world": "thing", "namings": "world", "instances": "world", "where": "world, instance, name",
+    },
+    "playing": {"run_world": "world, inputs, most"},
+    "traces": {"body_at": "image, position", "lies_in": "trace, lots"},
+    "machine": {"run_images": "program, libraries, inputs, most, bases=None, late=False"},
+    "desk": {},
+    "editions": {
+        "is_shelf": "thing", "shelf_bound": "shelf", "shelf_begins": "shelf", "fits": "shelf, card",
+        "may_replace": "old, new", "apart": "old, new", "is_apart": "old, new, thing",
+        "exchanged": "program, libraries, image",
+    },
+    "files": {"tree_cells": "tree", "tree_of": "cells", "file_of": "thing", "read_file": "cells"},
+}
+
+# The interface's classes, by their files: the parameters of each, and its methods with theirs.
+CLASSES = {
+    "playing": {"Play": ("world, inputs", {"step": "", "state": ""})},
+    "machine": {"Machine": ("program, libraries, inputs, bases=None, late=False", {
+        "step": "", "go": "rows", "copy": "", "state": "", "held": "", "spot": "address"})},
+    "desk": {"Desk": ("", {"say": "line"})},
 }
 
 # Modules that the interface does not list, and behind which of its own they come.
@@ -69,6 +96,21 @@ class InterfaceTest(unittest.TestCase):
                     self.assertTrue(inspect.isfunction(f))
                     self.assertEqual(f.__module__, "onebase." + module)
                     self.assertEqual(str(inspect.signature(f)), "(" + parameters + ")")
+
+    def test_classes_stand_in_their_files_with_their_methods(self):
+        for module, told in CLASSES.items():
+            made = importlib.import_module("onebase." + module)
+            for name, (parameters, methods) in told.items():
+                with self.subTest(module=module, name=name):
+                    held = getattr(made, name)
+                    self.assertTrue(inspect.isclass(held))
+                    self.assertEqual(held.__module__, "onebase." + module)
+                    self.assertEqual(str(inspect.signature(held)), "(" + parameters + ")")
+                    for method, more in methods.items():
+                        f = vars(held)[method]
+                        self.assertTrue(inspect.isfunction(f))
+                        self.assertEqual(
+                            str(inspect.signature(f)), "(" + ", ".join(["self"] + [more] * bool(more)) + ")")
 
     def test_modules_import_from_those_ahead(self):
         files = package()
