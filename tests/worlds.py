@@ -71,18 +71,24 @@ def one_unit(rng, title, far, own=0.3):
     """A sound unit, some of whose names are among far, those that cards export."""
     names = rng.sample(NAMES, rng.randrange(1, 7))
 
-    def name(word):
+    def name(word, user):
         kinds = {"code": "c", "data": "d", "room": "d", "const": "k", "cells": "k", "table": "t"}
         letters = [kinds[sort] for sort in plain.ASKED[word]]
+        if word in ("call", "try", "jump", "take") and rng.random() < 0.15:
+            return rng.choice(spares)
         for held, chance in ((far, 0.4), (names, 0.8)):
             known = [x for x in held if x[0] in letters]
+            # Most calls go one way, so that they come to an end.
+            if user[0] == "c" and rng.random() < 0.8:
+                known = [x for x in known if x > user]
             if known and rng.random() < chance:
                 return rng.choice(known)
         return rng.choice([x for x in NAMES if x[0] in letters])
 
     while True:
-        pieces = tuple(one_piece(rng, x, name, own) for x in names)
-        spares = tuple(sorted(x for x in CODES if x not in names and rng.random() < 0.3))
+        # Nobody ever defines cx and cy.
+        spares = tuple(sorted(x for x in CODES + ("cx", "cy") if x not in names and (x > "cg" or rng.random() < 0.3)))
+        pieces = tuple(one_piece(rng, x, lambda word: name(word, x), own) for x in names)
         starts = tuple(p[1] for p in pieces if p[2] == "code" and p[3] == "own" for _ in range(rng.randrange(3)))
         u = ("unit", title, spares, starts, pieces)
         if plain.is_unit(u) and plain.faults(u) == ():
