@@ -1,0 +1,261 @@
+"""THE HEART: what a loaded world shows is what it shows by names, however its images were made."""
+
+import random
+import unittest
+
+from onebase.apart import taken_apart
+from onebase.bundles import bundle_of
+from onebase.carrying import carries
+from onebase.deeds import after
+from onebase.files import file_of, read_file
+from onebase.images import image_with, linked
+from onebase.loading import bases_for, memory, scope
+from onebase.machine import Machine, run_images
+from onebase.meaning import instances
+from onebase.objects import assembled, unit_of
+from onebase.playing import Play, run_world
+from onebase.texts import read_unit, unit_text
+from onebase.traces import lies_in
+from onebase.widths import branches, grown
+from tests import plainrun, worlds
+from tests.support import calls, code, item, made, piece
+from tests.test_meaning import card_item, lib, program
+
+
+def drawn(seed):
+    rng = random.Random(seed)
+    return rng, worlds.one_world(rng), worlds.one_inputs(rng)
+
+
+class InStepTest(unittest.TestCase):
+    def bodies(self, world, images):
+        """By instances the addresses, as (index in the scope, position), of the code bodies they may be run in."""
+        found = {}
+        scoped = plainrun.scope_of(world)
+        for k, m, x in instances(world):
+            at = scoped.index(k)
+            title = plainrun.named(world)[k][2][m][1]
+            found[k, m, x] = [(at, start) for start, end, lot, rows in images[at][12] if rows and (title, x) in lot]
+        return found
+
+    def check(self, world, machine, inputs, rows=150):
+        """[78], row by row."""
+        play = Play(world, inputs)
+        bodies = self.bodies(world, machine.images)
+        starts = {None} | {at for held in bodies.values() for at in held}
+        done = 0
+        while True:
+            frames, registers, places, events, end = play.state()
+            lots, other_registers, addresses, other_events, other_end = machine.state()
+            self.assertEqual((registers, events), (other_registers, other_events))
+            self.assertTrue(lies_in(frames, lots), (frames, lots))
+            for place, address in zip(places, addresses):
+                if place is None:
+                    self.assertEqual(address, 0)
+                else:
+                    self.assertIn(machine.spot(address), bodies[place])
+            self.check_unforged(machine, starts)
+            if end is not None and end[0] == "fails":
+                self.assertEqual(end[:2], other_end[:2])
+                self.assertTrue(lies_in(end[2], other_end[2]))
+            else:
+                self.assertEqual(end, other_end)
+            going = play.step()
+            self.assertIs(machine.step(), going)
+            if not going or done == rows:
+                return play.state()[4]
+            done += 1
+
+    def check_unforged(self, machine, starts):
+        """NO PLACE IS FORGED: places are starts of code bodies; the stack's addresses stand behind calls."""
+        for address in machine.state()[2]:
+            self.assertIn(machine.spot(address) if address else None, starts)
+        cells = machine.held()[3]
+        for address in machine.held()[1]:
+            k, position = machine.spot(address)
+            rows = [row for start, end, lot, rows in machine.images[k][12] for row in rows]
+            self.assertIn(position, rows)
+            call = max(row for row in rows if row < position)
+            self.assertIn(cells[address - position + call], (14, 15, 20, 35))
+
+    def test_linked_images(self):
+        ends = {}
+        for seed in range(250):
+            rng, world, inputs = drawn(seed)
+            told, libraries = worlds.images_for(world)
+            images = scope(told, libraries)
+            bases = rng.choice((None, worlds.one_bases(rng, images)))
+            machine = Machine(told, libraries, inputs, bases, rng.random() < 0.5)
+            end = (self.check(world, machine, inputs) or ("cut",))[0]
+            ends[end] = ends.get(end, 0) + 1
+        self.assertEqual(set(ends), {"stopped", "fails", "waits", "cut"})
+
+    def test_what_is_written(self):
+        """No cell is ever written but those of data and rooms, and late slots once."""
+        written = 0
+        for seed in range(150):
+            rng, world, inputs = drawn(seed)
+            told, libraries = worlds.images_for(world)
+            machine = Machine(told, libraries, inputs, late=True)
+            early, before = memory(told, libraries), machine.held()[3]
+            unbound = machine.held()[2]
+            machine.go(150)
+            after_all = machine.held()
+            for address, (x, y) in enumerate(zip(before, after_all[3])):
+                if x == y:
+                    continue
+                k, position = machine.spot(address)
+                ends = machine.images[k][11]
+                if ends[2] <= position < ends[3]:
+                    slot = address - (position - ends[2]) % 2
+                    self.assertIn(slot, unbound)
+                    self.assertNotIn(slot, after_all[2])
+                    self.assertEqual(y, early[address])
+                else:
+                    self.assertGreaterEqual(position, ends[3])
+                    written += 1
+        self.assertGreater(written, 4)
+
+    def test_all_that_carry(self):
+        """[91]: any image that carries a plan shows what it means: with more branches long, and with bodies for all."""
+        longer = apart = 0
+        for seed in range(150):
+            rng, world, inputs = drawn(seed)
+            images = []
+            for _, goal, line in world:
+                bundle = bundle_of(line, goal)
+                more = tuple(b for b in branches(bundle) if rng.random() < 0.5)
+                image = image_with(bundle, grown(bundle, more))
+                longer += image != linked(line, goal)
+                self.assertTrue(carries(line, goal, image))
+                images.append(image)
+                apart += len(bundle[7])
+            machine = Machine(images[-1], tuple(images[:-1]), inputs, late=rng.random() < 0.5)
+            self.check(world, machine, inputs, 60)
+        self.assertGreater(longer, 50)
+
+    def test_two_bodies_for_one_class(self):
+        """[95]: a body for each of two alike, called in turn."""
+        get = (("load", 0, "pair", 1), ("return",))
+        unit = made("u", code("main", ("call", "get"), ("call", "twin"), ("return",)), code("get", *get, reach="own"),
+                    code("twin", *get, reach="own"), piece("pair", "const", (5, 7), "own"))
+        world = (program(item(unit)),)
+        bundle = bundle_of(world[0][2], world[0][1])
+        self.assertEqual([part[2] for part in bundle[7]], [
+            (("u", "main"),), (("u", "get"), ("u", "twin")), (("u", "pair"),)])
+        body = bundle[7][1][3]
+        both = bundle[7][1][2]
+        for first, second, lots in ((1, 2, (both[:1], both[1:])), (1, 2, (both, both)), (2, 1, (both, both)), (2, 2, (both[:1], both))):
+            parts = (bundle[7][0][:3] + ((("call", first), ("call", second), ("return",)),),
+                     ("body", "code", lots[0], (("load", 0, 3, 1), ("return",))),
+                     ("body", "code", lots[1], (("load", 0, 3, 1), ("return",))), bundle[7][2])
+            other = bundle[:7] + (parts,)
+            image = image_with(other, ())
+            self.assertTrue(carries(world[0][2], world[0][1], image))
+            self.check(world, Machine(image, (), ()), ())
+        self.assertEqual(body, (("load", 0, 2, 1), ("return",)))
+
+
+class HeartTest(unittest.TestCase):
+    def check(self, world, images, inputs, rng, same_names=True):
+        """run_images shows what run_world shows."""
+        scoped = scope(images[-1], tuple(images[:-1]))
+        bases = rng.choice((None, bases_for(scoped[0], images[:-1]), worlds.one_bases(rng, scoped)))
+        for most in (0, 5, 120):
+            events, end = run_world(world, inputs, most)
+            other = run_images(images[-1], tuple(images[:-1]), inputs, most, bases, rng.random() < 0.5)
+            self.assertEqual(events, other[0])
+            self.assertEqual(end[:2], other[1][:2])
+            if end[0] == "fails":
+                self.assertEqual([f[0] for f in end[2]], [f[0] for f in other[1][2]])
+                self.assertEqual([f[3] for f in end[2]], [f[2] for f in other[1][2]])
+                if same_names:
+                    self.assertTrue(lies_in(end[2], other[1][2]))
+
+    def test_from_texts_to_showings(self):
+        """[27]: texts, units, objects as files, read, linked, images as files, read, loaded and run."""
+        for seed in range(120):
+            rng, world, inputs = drawn(seed)
+            plans, images = [], []
+            for _, goal, line in world:
+                items = []
+                for kind, thing in line:
+                    if kind == "object":
+                        text = unit_text(unit_of(thing))
+                        cells = file_of(assembled(read_unit(text.replace("\n", "\n \n"))))
+                        self.assertTrue(all(type(c) is int and 0 <= c <= 63 for c in cells))
+                        thing = read_file(list(cells))
+                    items.append((kind, thing))
+                self.assertEqual(tuple(items), line)
+                plans.append(("plan", goal, tuple(items)))
+                images.append(read_file(file_of(linked(tuple(items), goal))))
+            self.check(tuple(plans), tuple(images), inputs, rng)
+
+    def test_taken_apart_and_linked_again(self):
+        """[26]: the unit links to the same image, in all but its book and its wants."""
+        many = 0
+        for seed in range(120):
+            rng, world, inputs = drawn(seed)
+            images = []
+            for _, goal, line in world:
+                image = linked(line, goal)
+                cards = {i[1][1]: i for i in line if i[0] == "library"}
+                try:
+                    unit, told_goal = taken_apart(image)
+                except ValueError as e:
+                    self.assertEqual(type(e).__name__, "TooMany")
+                    break
+                again = linked(tuple(cards[x] for x in image[3]) + (("object", assembled(unit)),), told_goal)
+                self.assertEqual(again[:4] + again[5:12], image[:4] + image[5:12])
+                images.append(again)
+            else:
+                many += 1
+                self.check(world, tuple(images), inputs, rng, False)
+        self.assertGreater(many, 100)
+
+    def test_linked_again_after_deeds(self):
+        """Whatever was done and taken back in between: what is linked is the line as it is."""
+        for seed in range(60):
+            rng, world, inputs = drawn(seed)
+            images = []
+            for _, goal, line in world:
+                was = line, goal
+                more = item(assembled(worlds.one_unit(rng, "more", ())))
+                at = rng.randrange(len(line) + 1)
+                line, goal = after(line, goal, ("put", at, more))
+                line, goal = after(line, goal, ("take", at))
+                if line:
+                    gone = rng.choice([k for k, i in enumerate(line) if i[0] == "object"] or [None])
+                    if gone is not None:
+                        held = line[gone]
+                        line, goal = after(line, goal, ("exchange", gone, more))
+                        line, goal = after(line, goal, ("exchange", gone, held))
+                self.assertEqual((line, goal), was)
+                images.append(linked(line, goal))
+            self.check(world, tuple(images), inputs, rng)
+
+    def test_a_world_by_hand(self):
+        """A try over a library's code, which fails in a body that another piece shares."""
+        f = code("f", ("call", "g"), ("return",))
+        g = code("g", ("show", 1), ("fail", 9), reach="own")
+        h = code("h", ("show", 1), ("fail", 9), reach="own")
+        li = lib("li", item(made("v", f, g)), item(made("w", code("k", ("call", "h"), ("return",)), h)))
+        main = made("u", code("main", ("try", "f", 1), ("show", 0), ("call", "k"), ("return",)))
+        world = (li, program(item(main), card_item(li)))
+        told, libraries = worlds.images_for(world)
+        trace = (("li", "w", "h", 1), ("li", "w", "k", 0), ("", "u", "main", 2))
+        shown = (("shown", 0), ("shown", 9), ("shown", 0))
+        self.assertEqual(run_world(world, (), 99), (shown, ("fails", 9, trace)))
+        for late in (False, True):
+            events, end = run_images(told, libraries, (), 99, late=late)
+            self.assertEqual((events, end[:2]), (shown, ("fails", 9)))
+            self.assertEqual([len(frame[1]) for frame in end[2]], [2, 2, 1])
+            self.assertTrue(lies_in(trace, end[2]))
+
+    def test_calls_of_a_pieces_own_names(self):
+        world = (program(item(made("u", calls("main", "f"), code("f", ("show", 2), ("return",), reach="own")))),)
+        self.check(world, (worlds.images_for(world)[0],), (), random.Random(1))
+
+
+if __name__ == "__main__":
+    unittest.main()
