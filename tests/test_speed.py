@@ -10,13 +10,18 @@ from onebase import objects, parts
 from onebase.bundles import bundle_of
 from onebase.carrying import carries, covers
 from onebase.deeds import after
+from onebase.desk import Desk
 from onebase.images import linked
 from onebase.lines import is_line
+from onebase.loading import bindings, memory
+from onebase.machine import Machine, run_images
+from onebase.meaning import instances, is_world, namings
 from onebase.naming import leads_to, naming
 from onebase.objects import assembled
+from onebase.playing import Play, run_world
 from onebase.taking import members
 from onebase.webs import web_of
-from tests import plainlink
+from tests import plainlink, worlds
 from tests.making import one_goal, whole_line
 from tests.support import raised
 
@@ -84,6 +89,44 @@ class SpeedTest(unittest.TestCase):
                     told += self.ask_all(named[1])
                 rng.shuffle(line)
         self.assertGreater(told, 2000)
+        self.assertLess(time.process_time() - began, 20)
+
+    def test_many_runs_end(self):
+        """Worlds loaded and run for some hundred rows, early and late, whole and row by row."""
+        drawn = [worlds.one_world(random.Random(seed)) for seed in range(60)]
+        line, goal = long_line()
+        drawn.append((("plan", goal, line),))
+        images = [worlds.images_for(world) for world in drawn]
+        began = time.process_time()
+        for _ in range(10):
+            for world, (program, libraries) in zip(drawn, images):
+                run_world(world, (1, 2, 3), 400)
+                for late in (False, True):
+                    run_images(program, libraries, (1, 2, 3), 400, None, late)
+                memory(program, libraries)
+                bindings(program, libraries)
+                instances(world)
+        for world, (program, libraries) in zip(drawn, images):
+            play, machine = Play(world, ()), Machine(program, libraries, ())
+            for _ in range(200):
+                play.state(), machine.state(), machine.held(), machine.copy()
+                if not play.step() or not machine.step():
+                    break
+        self.assertLess(time.process_time() - began, 20)
+
+    def test_a_plan_is_taken_apart_once(self):
+        line, goal = long_line()
+        world = (("plan", goal, line),)
+        for f, more in ((is_world, ()), (namings, ()), (instances, ()), (run_world, ((), 50)), (Play, ((),))):
+            self.assertEqual(self.taken_apart(f, world, *more), 6)
+
+    def test_the_desk_answers_soon(self):
+        began = time.process_time()
+        for _ in range(300):
+            desk = Desk()
+            for text in ("unit v\ncode f open\nshow 1\nreturn", "line v", "library li", "unit m\ncode main open\ncall f\nreturn",
+                         "line m li", "program main", "run", "machine", "size", "cells", "listing", "kept", "members", "undo"):
+                desk.say(text)
         self.assertLess(time.process_time() - began, 20)
 
     def ask_all(self, named):
