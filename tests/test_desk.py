@@ -53,7 +53,7 @@ class FormTest(Case):
                 "cells 1", "listing u", "run 3", "machine 3", "archive", "archive ar", "archive a call", "archive call v",
                 "archive ar  v", "archive ar v ", "line  u", "line u ", "line round", "line over", "line round over",
                 "line round ar", "line over ar", "line u over", "line round round ar over over", "line round ar over over",
-                "line round ar round over", "line unit", "line U", "line u\n", "library", "library a b", "library call",
+                "line round ar round over", "line round round ar over", "line round ar round ar over", "line unit", "line U", "line u\n", "library", "library a b", "library call",
                 "program", "program a b", "program if", "program 3", "drop", "drop u v", "drop take", "give", "give 64", "give 07",
                 "give 00", "give -1", "give 1 2", "give a", "give +1", "give 1.", "take", "take u", "take back back", "takeback",
                 "back", "undo 1", "redo 1", "undo redo", "unit", "unit u", "unit u ", "units u\ncode f own\nstop", "goto 3",
@@ -147,6 +147,9 @@ class DeedTest(Case):
         held = desk(V, "archive ar v", "line round ar over")
         self.told(held, "drop ar", "error InUse", "drop v", "error InUse", "line ar", "ok", "drop ar", "error InUse", "line", "ok",
                   "drop ar", "ok", "drop v", "ok")
+        # Names of which one is a part of the other.
+        held = desk(V, V.replace("unit v", "unit vv"), "line vv", "library li")
+        self.told(held, "drop v", "ok", "drop vv", "error InUse", "archive ar vv", "ok", "line round ar over", "ok", V, "ok", "drop v", "ok")
         # Its own plan keeps no library, and units that plans have may go.
         held = desk(V, "line v", "library li", "line li")
         self.told(held, "drop li", "error InUse", "drop v", "ok", "line", "ok", "drop li", "ok")

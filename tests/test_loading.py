@@ -238,6 +238,10 @@ class BasesTest(unittest.TestCase):
         program, libraries = big("", 2000, ("li", "la", "lo")), (big("li", 2000), big("la", 95), empty)
         self.assertEqual(bases_for(program, libraries), (1, 2001, 4001, 4096))
 
+    def test_images_of_one_cell(self):
+        for bases, right in (((1, 2), True), ((2, 1), True), ((7, 7), False), ((4095, 1), True), ((1, 4096), False)):
+            self.assertIs(are_bases(image(needs=("li",)), (image("li"),), bases), right)
+
     def test_bases(self):
         program, libraries = image(needs=("li", "lo"), more=9), (big("lo", 5), image("li", rooms=7))
         for bases, right in (

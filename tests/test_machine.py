@@ -205,6 +205,33 @@ class InstructionsTest(unittest.TestCase):
             other = told[:10] + ((16, at - 2) + told[10][2:],) + told[11:]
             self.assertEqual(run_images(other, (), (), 9), ((), ("lost", address)))
 
+    def test_lost_at_the_edges_of_images(self):
+        """What is not of an image is not run, read or written, be its cells 0 or another one's beside it."""
+        whole = text_image((("jump", 0), 2), data=(6,))
+        for told, base, rows, address in (
+                # Of the show but its code belongs to the image; behind it stand zeros.
+                (whole, 1, 1, 3), (whole, 4093, 1, 4095),
+                # Of the two cells of a place the first one, or the last one, belongs to none.
+                (text_image((("by take", 0, -5), 4), STOP), 1, 0, 1), (text_image((("by take", 0, 0), 4), data=(0,)), 1, 0, 1),
+                (text_image((("by take", 0, 0), 4), data=(0,)), 4091, 0, 4091), (text_image((("pick", 0, 0, 1, -7), 6), STOP), 9, 0, 9),
+                # Address 0 by distance is no nothing: there is no cell.
+                (text_image((("jump", -3), 2)), 1, 1, 0), (text_image((("call", -4), 3)), 1, 1, 0),
+                (text_image((("pick", 0, 0, 1, -7), 6), STOP), 1, 0, 1), (text_image((("load", 0, -5), 4)), 1, 0, 1),
+                # Behind and ahead of memory.
+                (text_image((("load", 0, 0), 4)), 4092, 0, 4092), (text_image((("store", 0, 1), 4)), 4092, 0, 4092),
+                (text_image((("load", 0, -6), 4)), 1, 0, 1), (text_image((("jump", 0), 2)), 4094, 1, 4096),
+                (text_image((("jump", -4), 2)), 1, 1, -1), (text_image((("show", 0), 2)), 4094, 1, 4096)):
+            machine, iron = Machine(told, (), (), (base,)), plainrun.Iron(told, (), (), (base,))
+            self.assertEqual(machine.go(9), rows)
+            self.assertEqual(len([None for _ in range(9) if iron.step()]), rows)
+            self.assertEqual(machine.state(), iron.state())
+            self.assertEqual(machine.state()[4], ("lost", address))
+        # With another image on top of memory there still is none ahead of it.
+        told = text_image((("jump", -4), 2), needs=("li",))
+        self.assertEqual(run_images(told, (text_image(STOP, name="li"),), (), 9, (1, 4095)), ((), ("lost", -1)))
+        told = text_image((("load", 0, -6), 4), STOP, needs=("li",))
+        self.assertEqual(run_images(told, (text_image(STOP, name="li"),), (), 9, (1, 4095)), ((), ("lost", 1)))
+
     def test_neighbours_belong_to_memory(self):
         """A cell of another image may be read and written; between images nothing may."""
         program = text_image((("load", 0, 2), 4), (("show", 0), 2), needs=("li",))
@@ -224,12 +251,15 @@ class InstructionsTest(unittest.TestCase):
 
     def test_tries_count_within_their_image(self):
         """At the address just behind an image, where another one stands, none of its tries counts."""
-        program = text_image((("jump", 0), 2), tries=((2, 0),), needs=("li",))
+        program = text_image((("call", 0), 2), tries=((2, 0),), needs=("li",))
         library = text_image((("fail", 4), 2), STOP, name="li")
-        for bases in ((1, 3), (10, 12)):
-            told = run_images(program, (library,), (), 9, bases)
-            self.assertEqual(told, ((), ("fails", 4, (("li", LOT, 0),))))
-            self.assertEqual(told, plainrun.run_images(program, (library,), (), 9, bases))
+        told = run_images(program, (library,), (), 9, (1, 3))
+        self.assertEqual(told, ((), ("fails", 4, (("li", LOT, 0), ("", LOT, 0)))))
+        self.assertEqual(told, plainrun.run_images(program, (library,), (), 9, (1, 3)))
+        program = text_image((("call", -2), 2), tries=((2, 0),))
+        self.assertEqual(Machine(program, (), (), (4094,)).go(9), 9)
+        program = text_image((("fail", 4), 2), tries=((2, 0),))
+        self.assertEqual(run_images(program, (), (), 9, (4094,)), ((), ("fails", 4, (("", LOT, 0),))))
 
 
 class TraceTest(unittest.TestCase):
