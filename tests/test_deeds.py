@@ -5,7 +5,7 @@ from onebase.deeds import after, is_deed
 from onebase.lines import is_goal, is_line
 from tests import plain
 from tests.making import one_goal, one_line
-from tests.support import WEIRD, archive, calls, check_judge, code, item, library, made, near, piece, raised
+from tests.support import WEIRD, archive, calls, check_judge, code, item, library, made, piece, raised
 
 A = item(made("a", calls("f", "g")))
 B = item(made("b", code("g")))

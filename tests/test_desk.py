@@ -7,10 +7,9 @@ from onebase.images import linked
 from onebase.keeping import kept
 from onebase.listings import listing
 from onebase.machine import run_images
-from onebase.objects import assembled
 from onebase.playing import run_world
 from onebase.taking import members
-from onebase.texts import read_unit, unit_text
+from onebase.texts import unit_text
 from onebase.webs import web_of
 from tests import plain, plainlink, plainrun, worlds
 from tests.making import one_unit

@@ -2,7 +2,7 @@ import random
 import unittest
 
 from onebase.bundles import bundle_of
-from onebase.errors import BadBundle, BadLot, Far, TooGreat
+from onebase.errors import BadBundle, BadLot, Far
 from onebase.images import image_of, image_with, linked
 from onebase.readback import is_image
 from onebase.widths import branches, far, grown

@@ -1,6 +1,6 @@
 import unittest
 
-from onebase.errors import BadGoal, BadLine, NoLibrary
+from onebase.errors import BadGoal, BadLine
 from onebase.lines import is_card, is_goal, is_line
 from onebase.naming import naming
 from onebase.taking import members

@@ -3,7 +3,7 @@ import unittest
 from onebase.errors import BadObject, BadUnit
 from onebase.objects import assembled, is_object, unit_of
 from tests import plain
-from tests.support import WEIRD, check_judge, code, near, piece, unit
+from tests.support import WEIRD, check_judge, code, near, unit
 from tests.test_units import PIECES, ROWS, UNITS
 
 EVERY = unit(

@@ -1,7 +1,7 @@
 import random
 import unittest
 
-from onebase.errors import BadIndex, BadPiece, BadText, BadUnit
+from onebase.errors import BadIndex, BadPiece, BadUnit
 from onebase.texts import fault_rows, finished, read_unit, row_at, unit_text
 from onebase.units import is_unit, unit_faults
 from tests import plain

@@ -8,7 +8,7 @@ from onebase.errors import BadBranch, BadBundle, BadLot
 from onebase.widths import branches, distance, far, forced, grown, is_forced, places, waves
 from tests import plain
 from tests.making import one_bundle
-from tests.support import WEIRD, check_judge, near
+from tests.support import WEIRD, near
 from tests.test_bundles import HAND, RICH
 
 SHOW = ("show", 0)
