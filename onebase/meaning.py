@@ -29,19 +29,11 @@ def plans_in(thing):
         if (plan[1][0] == "program") != (at == len(thing) - 1):
             return None
         read = line_in(plan[2])
-        if read is None or not are_objects_and_cards(read, ahead):
+        if read is None or not all(card[1] in ahead for card in cards_in(plan[2])):
             return None
         plans.append((plan[1], read))
         ahead.append(plan[1][1])
     return plans if are_different(ahead[:-1]) else None
-
-
-def are_objects_and_cards(read, ahead):
-    """Whether there are but objects, and cards of libraries of these names."""
-    for item, _ in read:
-        if item[0] != "object" and (item[0] != "library" or item[1][1] not in ahead):
-            return False
-    return True
 
 
 def namings(world):

@@ -93,7 +93,7 @@ class DeedTest(Case):
         # It names the units, whatever they become.
         held = desk(MAIN, V, "archive ar v", "line m ar", "program main")
         self.told(held, "machine", "shown 0 stopped", "unit v\ncode f open\nset 1 6\nshow 1\nreturn", "ok", "members", "m v",
-                  "machine", "shown 6 stopped", "run", "error BadWorld")
+                  "machine", "shown 6 stopped", "run", "shown 6 stopped")
 
     def test_lines(self):
         held = desk(U, V, W, "archive ar v", "archive br w", "library li")
@@ -111,7 +111,11 @@ class DeedTest(Case):
         q = "unit q\ncode h open\nreturn"
         held = desk(m, p, q, r, "archive one p q", "archive two r", "line m one two", "program main")
         self.told(held, "members", "m p r", "kept", "error Missing h", "line m round one two over", "ok", "members", "m p r q",
-                  "kept", "m.main p.f r.g q.h", "machine", "stopped", "run", "error BadWorld")
+                  "kept", "m.main p.f r.g q.h", "machine", "stopped", "run", "stopped")
+        # By names, too, only members run; what no member wants is left out.
+        held = desk(m, p, r, "unit q\ncode h open\nshow 0\nfail 7", "unit t\nstart t\ncode t own\nstop",
+                    "archive one p q", "archive two t r", "line m round one two over", "program main")
+        self.told(held, "run", "shown 0 fails 7\n- q h 1\n- r g 0\n- p f 0\n- m main 0", "members", "m p r q")
 
     def test_libraries(self):
         held = desk(U, V, W, "line v", "library li")
@@ -124,7 +128,7 @@ class DeedTest(Case):
         held = desk(V, W, "archive ar v", "line w ar", "library li", "line w v", "library li", MAIN, "line m li", "program main")
         self.told(held, "run", "shown 0 stopped", "machine", "shown 0 stopped")
         held = desk(V, W, "archive ar v", "line w ar", "library li", MAIN, "line m li", "program main")
-        self.told(held, "machine", "shown 0 stopped", "run", "error BadWorld")
+        self.told(held, "machine", "shown 0 stopped", "run", "shown 0 stopped")
 
     def test_a_plan_has_the_items_as_they_were(self):
         held = desk(V, MAIN, "line v", "library li", "line m li", "program main")
@@ -295,16 +299,26 @@ class QuestionTest(Case):
 
 
 class DrawnTest(Case):
+    def words_for(self, held, one):
+        """The words of an item in the desk's line, behind what it names was told; none for what is empty."""
+        if one[0] == "round":
+            words = [word for a in one[1] for word in self.words_for(held, a)]
+            return ["round"] + words + ["over"] if words else []
+        if one[0] == "library":
+            return [one[1][1]]
+        for thing in one[2] if one[0] == "archive" else one[1:]:
+            self.assertEqual(held.say(unit_text(self.unit_of(thing))), "ok")
+        if one[0] == "object":
+            return [one[1][1]]
+        names = [thing[1] for thing in one[2]]
+        if names:
+            self.assertEqual(held.say(" ".join(["archive", one[1]] + names)), "ok")
+        return [one[1]] if names else []
+
     def say_world(self, held, rng, world):
         """Tells the desk the world: its libraries, and its program's line last."""
         for k, (_, goal, line) in enumerate(world):
-            words = []
-            for kind, thing in line:
-                if kind == "object":
-                    self.assertEqual(held.say(unit_text(self.unit_of(thing))), "ok")
-                    words.append(thing[1])
-                else:
-                    words.append(thing[1])
+            words = [word for one in line for word in self.words_for(held, one)]
             self.assertEqual(held.say(" ".join(["line"] + words)), "ok")
             self.assertEqual(held.say(" ".join(goal) if goal[0] == "library" else "program " + goal[1]), "ok")
 

@@ -19,8 +19,7 @@ def valid_world(w):
         goal_(plan[1])
         need((plan[1][0] == "program") is (k == len(w) - 1))
         line_(plan[2])
-        for one in plan[2]:
-            need(one[0] == "object" or one[0] == "library" and one[1][1] in names)
+        need(all(c[1] in names for c in plainlink.cards_of(plan[2])))
         names.append(plan[1][1])
     apart(names[:-1])
 
@@ -56,7 +55,8 @@ class WorldTest(unittest.TestCase):
         lo = lib("lo", card_item(li))
         seen = check_judge(self, is_world, valid_world, [
             (program(item(made("u", code("main")))),), (program(),), (li, program(card_item(li))),
-            (lib("li"), lib("lo"), program(library("lo"), library("li"))), (li, lo, program(card_item(lo)))])
+            (lib("li"), lib("lo"), program(library("lo"), library("li"))), (li, lo, program(card_item(lo))),
+            (program(archive("a", made("u", code("main"))), ("round", (archive("b"), archive("c")))),)])
         self.assertGreater(seen[True], 100)
         self.assertGreater(seen[False], 1000)
 
@@ -70,7 +70,13 @@ class WorldTest(unittest.TestCase):
                 ((lib("li"), program(library("li"), library("li"))), False),
                 ((lib("li"), program(library("lo"))), False), ((lib("li", library("li")), last), False),
                 ((lib("li", library("lo")), lib("lo"), last), False), ((lib("li"), lib("lo", library("li")), last), True),
-                ((program(archive("a")),), False), ((program(("round", ())),), False), ([last], False),
+                ((program(archive("a")),), True), ((program(("round", ())),), True), ([last], False),
+                # Objects may stand in archives and rounds, in all plans; units, archives and cards are told apart by their names.
+                ((program(MAIN, archive("a", F[1])),), True), ((lib("li", ("round", (archive("a", F[1]), archive("b")))), last), True),
+                ((program(archive("a"), archive("a")),), False), ((program(MAIN, ("round", (archive("a"), archive("a")))),), False),
+                ((program(MAIN, archive("a", MAIN[1])),), False), ((program(archive("a", F[1]), ("round", (archive("b", F[1]),))),), False),
+                ((lib("li", archive("a")), program(archive("a"))), True), ((program(archive("call")),), False),
+                ((program(archive("a"), library("li")),), False), ((program(("round", (F,))),), False),
                 # Whatever the card tells: whether it is the library's is asked by namings.
                 ((lib("li"), program(library("li", ("zz",), (("f", "code", 0),)))), True),
                 # A sound unit is asked; and each unit's name once.
@@ -85,7 +91,7 @@ class WorldTest(unittest.TestCase):
             self.assertIs(is_world((thing,)), False)
 
     def test_all_raise_for_what_is_none(self):
-        for thing in WEIRD + ((program(archive("a")),), (lib("li"),), [program(MAIN, F)]):
+        for thing in WEIRD + ((program(archive("a"), archive("a")),), (lib("li"),), [program(MAIN, F)], (program(MAIN, archive("a", MAIN[1])),)):
             for f, more in ((namings, ()), (instances, ()), (where, (None, None)), (run_world, (None, None)),
                             (Play, (None,))):
                 self.assertEqual(raised(f, thing, *more), ("BadWorld", {}))

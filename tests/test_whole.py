@@ -93,7 +93,7 @@ class InStepTest(unittest.TestCase):
     def test_what_is_written(self):
         """No cell is ever written but those of data and rooms, and late slots once."""
         written = 0
-        for seed in range(150):
+        for seed in range(250):
             rng, world, inputs = drawn(seed)
             told, libraries = worlds.images_for(world)
             machine = Machine(told, libraries, inputs, late=True)
@@ -178,18 +178,28 @@ class HeartTest(unittest.TestCase):
             rng, world, inputs = drawn(seed)
             plans, images = [], []
             for _, goal, line in world:
-                items = []
-                for kind, thing in line:
-                    if kind == "object":
-                        text = unit_text(unit_of(thing))
-                        cells = file_of(assembled(read_unit(text.replace("\n", "\n \n"))))
-                        self.assertTrue(all(type(c) is int and 0 <= c <= 63 for c in cells))
-                        thing = read_file(list(cells))
-                    items.append((kind, thing))
-                self.assertEqual(tuple(items), line)
-                plans.append(("plan", goal, tuple(items)))
-                images.append(read_file(file_of(linked(tuple(items), goal))))
+                items = tuple(self.rewritten(one) for one in line)
+                self.assertEqual(items, line)
+                plans.append(("plan", goal, items))
+                images.append(read_file(file_of(linked(items, goal))))
             self.check(tuple(plans), tuple(images), inputs, rng)
+
+    def rewritten(self, one):
+        """An item whose objects were written as texts and as files, its archives as files, and read back."""
+        if one[0] == "library":
+            return one
+        if one[0] == "round":
+            return ("round", tuple(self.rewritten(a) for a in one[1]))
+        if one[0] == "object":
+            return ("object", self.reassembled(one[1]))
+        made_up = ("archive", one[1], tuple(self.reassembled(thing) for thing in one[2]))
+        return read_file(list(file_of(made_up)))
+
+    def reassembled(self, thing):
+        text = unit_text(unit_of(thing))
+        cells = file_of(assembled(read_unit(text.replace("\n", "\n \n"))))
+        self.assertTrue(all(type(c) is int and 0 <= c <= 63 for c in cells))
+        return read_file(list(cells))
 
     def test_taken_apart_and_linked_again(self):
         """[26]: the unit links to the same image, in all but its book and its wants."""

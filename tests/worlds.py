@@ -5,7 +5,7 @@ from onebase.images import linked
 from onebase.naming import naming
 from onebase.objects import assembled
 from tests import plain, plainlink
-from tests.support import item
+from tests.support import archive, item
 
 CODES = ("ca", "cb", "cc", "cd", "ce", "cf", "cg")
 # Whoever defines one of these gives it this length, so that all that is bound has the length asked.
@@ -109,11 +109,23 @@ def one_fix(rng, names):
     return assembled(("unit", "fix", (), (), tuple(pieces)))
 
 
+def shelved(rng, objects):
+    """Items with these objects: some alone, some in an archive or two, or in a round of these."""
+    alone = [thing for thing in objects if rng.random() < 0.4]
+    others = [thing for thing in objects if thing not in alone]
+    cut = rng.randrange(len(others) + 1)
+    archives = [archive("xa", *others[:cut]), archive("xb", *others[cut:])]
+    groups = rng.choice((archives, [("round", tuple(archives))], archives[:1] + [("round", tuple(archives[1:]))]))
+    return [item(thing) for thing in alone] + groups
+
+
 def one_plan(rng, goal, cards):
     far = [e[0] for c in cards for e in c[3]]
     many = rng.choice((0, 1, 1, 2, 2))
-    objects = [item(assembled(one_unit(rng, "u" + "abc"[k], far))) for k in range(many)]
-    items = objects + [("library", c) for c in cards]
+    shelves = rng.random() < 0.4
+    objects = [assembled(one_unit(rng, "u" + "abcd"[k], far)) for k in range(2 * many if shelves else many)]
+    items = shelved(rng, objects) if shelves else [item(thing) for thing in objects]
+    items += [("library", c) for c in cards]
     rng.shuffle(items)
     told = plainlink.outcome(plainlink.naming, tuple(items), goal)
     if told[0] == "Missing":
