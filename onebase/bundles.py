@@ -106,9 +106,17 @@ def bundle_of(line, goal):
 
 def bundle_from(named, web, cards):
     """As bundle_of, of the line's naming, its web and its cards."""
-    _, goal, members, table, wants, exports = named
     lots = bodies_in(web)
-    made, index = bodies_from(web, lots, [part[1] for part in members])
+    return bundle_with(named, web, cards, lots, [knot for knot, _ in lots])
+
+
+def bundle_with(named, web, cards, lots, order):
+    """The bundle with these bodies: ascending pairs as bodies tells them, laid out in an order.
+
+    The order tells the knots; each sort has its bodies in this order.
+    """
+    _, goal, members, table, wants, exports = named
+    made, index = bodies_from(web, lots, [part[1] for part in members], order)
     mains = {knot: index[body] for knot, body in mains_of(lots).items()}
     spots = {knot[1]: number for number, knot in enumerate(web[3])}
     chosen = {x: spots[(place[1], x)] for x, place in table if place[0] == "piece"}
@@ -126,16 +134,17 @@ def bundle_from(named, web, cards):
     return ("bundle", name, entry, needs, wants, tuple(starts), tuple(shown), made)
 
 
-def bodies_from(web, lots, names):
+def bodies_from(web, lots, names, order):
     """The bundle's bodies, and by knots that have one its index among them.
 
     names are those of the members' units.
     """
     knots = folded_from(web, lots)[3]
-    order = [at for sort in SORTS for at, knot in enumerate(knots) if knot[2] == sort]
-    moved = {at: new for new, at in enumerate(order)}
+    spots = {knot: at for at, (knot, _) in enumerate(lots)}
+    places = [spots[knot] for sort in SORTS for knot in order if web[3][knot][2] == sort]
+    moved = {at: new for new, at in enumerate(places)}
     made = []
-    for new, at in enumerate(order):
+    for new, at in enumerate(places):
         pairs = [web[3][knot][1] for knot in lots[at][1]]
         lot = tuple([(names[m], x) for m, x in pairs])
         made.append(("body", knots[at][2], lot, moved_body(knots[at], moved, new)))

@@ -12,24 +12,29 @@ from onebase.webs import web_from
 
 def covers(line, goal, thing):
     """The errors of naming; whether any value is a bundle that covers the line and goal."""
-    cover = Cover(line, goal)
-    return is_bundle(thing) and cover.takes(thing)
+    cover = cover_of(line, goal)
+    return is_bundle(thing) and cover.matched(thing) is not None
 
 
 def carries(line, goal, thing):
     """The errors of naming; whether any value is an image of a bundle that covers them."""
-    cover = Cover(line, goal)
-    told = told_by(thing) if is_image(thing) else None
-    return told is not None and cover.takes(told[0])
+    cover = cover_of(line, goal)
+    return is_image(thing) and cover.carried_by(thing) is not None
+
+
+def cover_of(line, goal):
+    """The errors of naming; what a bundle must have to cover the line and goal."""
+    named, parts = named_of(line, goal)
+    return Cover(named, parts, cards_in(line))
 
 
 class Cover:
-    """What a bundle must have to cover a line and goal."""
+    """What a bundle must have to cover a line, by its naming, its members and its cards."""
 
-    def __init__(self, line, goal):
-        self.named, parts = named_of(line, goal)
+    def __init__(self, named, parts, cards):
+        self.named = named
+        self.cards = cards
         self.web = web_from(self.named, parts)
-        self.needs = tuple([card[1] for card in cards_in(line)])
         units = [part.unit[1] for part in parts]
         self.number = {}
         for k, (_, (m, x), _, _) in enumerate(self.web[3]):
@@ -41,21 +46,29 @@ class Cover:
             if place[0] == "piece":
                 self.chosen[x] = self.number[(units[place[1]], x)]
 
-    def takes(self, bundle):
-        """Whether the bundle covers the line and goal."""
+    def carried_by(self, image):
+        """As matched, of an image; None also if it is of no bundle."""
+        told = told_by(image)
+        return None if told is None else self.matched(told[0])
+
+    def matched(self, bundle):
+        """How the bundle covers the line and goal, None if it does not."""
         _, goal, _, _, wants, _ = self.named
         name = goal[1] if goal[0] == "library" else ""
-        if bundle[1] != name or bundle[3] != self.needs or bundle[4] != wants:
-            return False
+        needs = tuple([card[1] for card in self.cards])
+        if bundle[1] != name or bundle[3] != needs or bundle[4] != wants:
+            return None
         lots = []
         for part in bundle[7]:
             if not all(pair in self.number for pair in part[2]):
-                return False
+                return None
             lots.append({self.number[pair]: True for pair in part[2]})
         if not self.are_of_sort(bundle[7], lots):
-            return False
+            return None
         matching = Matching(self.web, bundle[7], lots)
-        return self.begins_well(bundle, lots, matching) and matching.fits()
+        if self.begins_well(bundle, lots, matching) and matching.fits():
+            return matching
+        return None
 
     def are_of_sort(self, parts, lots):
         """Whether lots have knots of their bodies' sort, data and rooms alone and once."""
@@ -90,7 +103,11 @@ class Cover:
 
 
 class Matching:
-    """Whether bodies are, row by row and item by item, what the knots of their lots are."""
+    """Whether bodies are, row by row and item by item, what the knots of their lots are.
+
+    lots has for each body the knots in its lot; place by knots the body that is
+    the place of each, shown by bodies the knot of which each is the place.
+    """
 
     def __init__(self, web, parts, lots):
         self.web = web

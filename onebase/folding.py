@@ -35,9 +35,13 @@ def bodies(web):
 
 def bodies_in(web):
     """As bodies, of a web that is known to be right."""
-    seen = told_in(web)
+    return bodies_of(classes_in(web), told_in(web))
+
+
+def bodies_of(lots, seen):
+    """The ascending pairs (knot, lot) of all bodies that lots have of which some knots are told."""
     found = []
-    for lot in classes_in(web):
+    for lot in lots:
         shown = [knot for knot in lot if knot in seen]
         for knot in shown or [lot[0]]:
             found.append((knot, lot))

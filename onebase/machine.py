@@ -51,6 +51,7 @@ class Machine:
         self.cells = loading.cells
         self.inputs = list(inputs)
         self.inputs.reverse()
+        self.late = late
         self.unbound = {}
         if late:
             self.unbind()
@@ -101,6 +102,7 @@ class Machine:
         made.owner = self.owner
         made.cells = list(self.cells)
         made.inputs = list(self.inputs)
+        made.late = self.late
         made.unbound = dict(self.unbound)
         made.tries = self.tries
         made.registers = list(self.registers)

@@ -61,6 +61,11 @@ def front_row(row, step):
 def is_even(web, thing):
     """BadWeb; whether any value is an even parting."""
     check_web(web)
+    return is_even_in(web, thing)
+
+
+def is_even_in(web, thing):
+    """As is_even, of a web that is known to be right."""
     many = len(web[3])
     if not is_tuple_of(thing, lambda lot: are_numbers_below(lot, many)):
         return False

@@ -231,10 +231,12 @@ def bound_in(function):
 def check_names(f):
     taken = set(f.imported) | {c.name for c in f.classes}
     for function in f.functions:
+        parameters = {a.arg for a in function.args.args} - taken - set(f.assigned)
         for name in bound_in(function):
             if name in vars(builtins) or name in NOT_AS_NAMES:
                 yield function.lineno, f"{name}: a builtin's or barred name"
-            if name in taken or name in f.defined or name in f.assigned:
+            # The interface gives parameters the names of functions beside them: the rules let that pass.
+            if name in taken or name in f.assigned or name in f.defined and name not in parameters:
                 yield function.lineno, f"{name}: a name of the module is bound again"
             if not re.fullmatch(r"_?[A-Za-z][A-Za-z0-9_]*|_", name):
                 yield function.lineno, f"{name}: no plain name"

@@ -234,3 +234,59 @@ def full_bundle(rng, most=3, rows=6, library=False):
         bundle = ("bundle", name, entry, ("lo", "le")[:rng.randrange(3)], wants, starts, exports, tuple(bodies))
         if plain.is_bundle(bundle):
             return bundle
+
+
+def small_objects(rng, names, dealt, doubles, chained):
+    """Objects that define the names dealt to each, and want others; chained: each wants what the next one has."""
+    objects = []
+    for k, own in enumerate(dealt):
+        own = own + [x for x in names if x not in own and rng.random() < doubles][:1]
+        pieces = [one_small_piece(rng, x, names, doubles) for x in own]
+        if chained and k + 1 < len(dealt) and rng.random() < 0.9:
+            pieces[0] = ("piece", own[0], "code", "hidden", "strong", (("call", dealt[k + 1][0]), ("return",)))
+        if rng.random() < 0.2:
+            pieces.append(("piece", "zz", "code", "own", "strong", (("call", rng.choice(names)), ("return",))))
+        spares = tuple(sorted(x for x in names if x not in own and rng.random() < 0.05))
+        objects.append(assembled(("unit", "u" + chr(97 + k), spares, (), tuple(pieces))))
+    return objects
+
+
+def loose_line(rng, most=6, doubles=0.0, fixed=1, chained=0.5):
+    """A line of small units and its goal, each name defined once but for some; now and then one is missing."""
+    chained = rng.random() < chained
+    many = rng.randrange(2, most + 1)
+    names = ["n" + chr(97 + k) for k in range(rng.randrange(many, 2 * many + 1))]
+    rng.shuffle(names)
+    dealt = [[] for _ in range(many + 1)]
+    for k, x in enumerate(names):
+        dealt[k if k < many else rng.randrange(many + 1)].append(x)
+    exports = tuple((x, "code", 0) for x in sorted(dealt.pop()))
+    goal = rng.choice((("program", dealt[0][0]), ("program", rng.choice(names)), ("library", "lz")))
+    objects = small_objects(rng, names, dealt, doubles, chained)
+    items = [("library", card("li", (), exports))] if exports or rng.random() < 0.1 else []
+    for _ in range(rng.randrange(fixed + 1)):
+        items.append(item(objects.pop(0)))
+    rng.shuffle(objects)
+    shelves = [[] for _ in range(rng.randrange(1, 5 if chained else 7))]
+    for thing in objects:
+        rng.choice(shelves).append(thing)
+    archives = [archive("a" + chr(97 + k), *held) for k, held in enumerate(shelves)]
+    while archives:
+        held = archives[:rng.choice((1, 1, 1, 1, 2))]
+        archives = archives[len(held):]
+        items.append(held[0] if len(held) == 1 and rng.random() < 0.9 else ("round", tuple(held)))
+    rng.shuffle(items)
+    return tuple(items), goal
+
+
+def one_small_piece(rng, x, names, doubles):
+    sort, force = "code", "strong"
+    if rng.random() < doubles:
+        sort, force = rng.choice((("code", "weak"), ("data", "strong"), ("room", "strong"), ("data", "weak")))
+    elif rng.random() < 0.05:
+        force = "weak"
+    if sort == "code":
+        body = tuple(("call", y) for y in rng.sample(names, rng.choice((0, 1, 1, 2)))) + (("return",),)
+    else:
+        body = 2 if sort == "room" else (1,)
+    return ("piece", x, sort, rng.choice(("open", "hidden")), force, body)

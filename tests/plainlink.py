@@ -3,6 +3,7 @@
 As plain as can be: everything is asked anew each time, by looking through all there is.
 """
 
+import functools
 import itertools
 
 from tests import plain
@@ -23,10 +24,13 @@ def outcome(f, *parts):
         return e.told
 
 
+# Of objects that are known to be right; each is read once.
+@functools.lru_cache(maxsize=None)
 def pieces_of(o):
     return plain.unit_told(o)[4]
 
 
+@functools.lru_cache(maxsize=None)
 def shown(o):
     return {p[1]: p for p in pieces_of(o) if p[3] != "own"}
 
@@ -35,10 +39,12 @@ def own(o):
     return {p[1]: p for p in pieces_of(o) if p[3] == "own"}
 
 
+@functools.lru_cache(maxsize=None)
 def led(o):
     return {x for p in pieces_of(o) for _, _, x, _ in plain.uses_of(p[2], p[5])} - set(own(o))
 
 
+@functools.lru_cache(maxsize=None)
 def wanted(o):
     return led(o) - set(o[2])
 

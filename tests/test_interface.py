@@ -64,6 +64,15 @@ MODULES = {
         "exchanged": "program, libraries, image",
     },
     "files": {"tree_cells": "tree", "tree_of": "cells", "file_of": "thing", "read_file": "cells"},
+    "plainlines": {"needed": "line, goal"},
+    "orders": {
+        "order": "line, goal", "is_order": "line, goal, thing", "order_with": "line, goal, first, second",
+    },
+    "grouping": {"groups": "line, goal", "is_groups": "line, goal, thing", "grouped": "line, groups"},
+    "loose": {"loose": "line, goal, lots, order"},
+    "lots": {"lots": "line, goal", "bars": "line, goal"},
+    "lotpapers": {"lot_with": "line, goal, lot", "is_lot_with": "line, goal, lot, thing"},
+    "moving": {"moved": "world, machine, images, bases=None"},
 }
 
 # The interface's classes, by their files: the parameters of each, and its methods with theirs.

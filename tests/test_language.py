@@ -65,9 +65,9 @@ class LanguageTest(unittest.TestCase):
     def test_reader_finds_breaches(self):
         for what, text in BROKEN.items():
             with self.subTest(what):
-                files = package()
-                files["more"] = text
+                files = {"kinds": package()["kinds"], "more": text}
                 self.assertNotEqual(breaches(files), [])
+        self.assertEqual(breaches({"kinds": package()["kinds"]}), [])
 
     def test_folder_holds_files_alone(self):
         for name in os.listdir(PACKAGE):

@@ -6,7 +6,7 @@ from onebase.webs import is_web, leads, web_of
 from tests import plain, plainlink
 from tests.making import one_goal, one_web, whole_line
 from tests.support import (
-    WEIRD, archive, calls, card, check_judge, code, item, library, made, near, piece, raised,
+    WEIRD, archive, calls, card, check_judge, code, item, made, near, piece, raised,
 )
 
 MAIN = ("program", "main")

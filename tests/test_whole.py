@@ -11,13 +11,12 @@ from onebase.files import file_of, read_file
 from onebase.images import image_with, linked
 from onebase.loading import bases_for, memory, scope
 from onebase.machine import Machine, run_images
-from onebase.meaning import instances
 from onebase.objects import assembled, unit_of
-from onebase.playing import Play, run_world
+from onebase.playing import run_world
 from onebase.texts import read_unit, unit_text
 from onebase.traces import lies_in
-from onebase.widths import branches, grown
-from tests import plainrun, worlds
+from tests import worlds
+from tests.instep import InStep, one_carrying
 from tests.support import calls, code, item, made, piece
 from tests.test_meaning import card_item, lib, program
 
@@ -27,57 +26,7 @@ def drawn(seed):
     return rng, worlds.one_world(rng), worlds.one_inputs(rng)
 
 
-class InStepTest(unittest.TestCase):
-    def bodies(self, world, images):
-        """By instances the addresses, as (index in the scope, position), of the code bodies they may be run in."""
-        found = {}
-        scoped = plainrun.scope_of(world)
-        for k, m, x in instances(world):
-            at = scoped.index(k)
-            title = plainrun.named(world)[k][2][m][1]
-            found[k, m, x] = [(at, start) for start, end, lot, rows in images[at][12] if rows and (title, x) in lot]
-        return found
-
-    def check(self, world, machine, inputs, rows=150):
-        """[78], row by row."""
-        play = Play(world, inputs)
-        bodies = self.bodies(world, machine.images)
-        starts = {None} | {at for held in bodies.values() for at in held}
-        done = 0
-        while True:
-            frames, registers, places, events, end = play.state()
-            lots, other_registers, addresses, other_events, other_end = machine.state()
-            self.assertEqual((registers, events), (other_registers, other_events))
-            self.assertTrue(lies_in(frames, lots), (frames, lots))
-            for place, address in zip(places, addresses):
-                if place is None:
-                    self.assertEqual(address, 0)
-                else:
-                    self.assertIn(machine.spot(address), bodies[place])
-            self.check_unforged(machine, starts)
-            if end is not None and end[0] == "fails":
-                self.assertEqual(end[:2], other_end[:2])
-                self.assertTrue(lies_in(end[2], other_end[2]))
-            else:
-                self.assertEqual(end, other_end)
-            going = play.step()
-            self.assertIs(machine.step(), going)
-            if not going or done == rows:
-                return play.state()[4]
-            done += 1
-
-    def check_unforged(self, machine, starts):
-        """NO PLACE IS FORGED: places are starts of code bodies; the stack's addresses stand behind calls."""
-        for address in machine.state()[2]:
-            self.assertIn(machine.spot(address) if address else None, starts)
-        cells = machine.held()[3]
-        for address in machine.held()[1]:
-            k, position = machine.spot(address)
-            rows = [row for start, end, lot, rows in machine.images[k][12] for row in rows]
-            self.assertIn(position, rows)
-            call = max(row for row in rows if row < position)
-            self.assertIn(cells[address - position + call], (14, 15, 20, 35))
-
+class InStepTest(InStep, unittest.TestCase):
     def test_linked_images(self):
         ends = {}
         for seed in range(250):
@@ -117,22 +66,17 @@ class InStepTest(unittest.TestCase):
         self.assertGreater(written, 4)
 
     def test_all_that_carry(self):
-        """[91]: any image that carries a plan shows what it means: with more branches long, and with bodies for all."""
-        longer = apart = 0
-        for seed in range(150):
+        """[91]: any image that carries a plan shows what it means: with more branches long, with bodies otherwise."""
+        others = more = 0
+        for seed in range(200):
             rng, world, inputs = drawn(seed)
-            images = []
-            for _, goal, line in world:
-                bundle = bundle_of(line, goal)
-                more = tuple(b for b in branches(bundle) if rng.random() < 0.5)
-                image = image_with(bundle, grown(bundle, more))
-                longer += image != linked(line, goal)
-                self.assertTrue(carries(line, goal, image))
-                images.append(image)
-                apart += len(bundle[7])
+            images = [one_carrying(rng, line, goal) for _, goal, line in world]
+            others += sum(image != linked(line, goal) for image, (_, goal, line) in zip(images, world))
+            more += sum(len(image[12]) > len(linked(line, goal)[12]) for image, (_, goal, line) in zip(images, world))
             machine = Machine(images[-1], tuple(images[:-1]), inputs, late=rng.random() < 0.5)
             self.check(world, machine, inputs, 60)
-        self.assertGreater(longer, 50)
+        self.assertGreater(others, 100)
+        self.assertGreater(more, 50)
 
     def test_two_bodies_for_one_class(self):
         """[95]: a body for each of two alike, called in turn."""

@@ -162,6 +162,21 @@ def one_world(rng, most=4):
             return tuple(plans)
 
 
+def alike_world(rng):
+    """A world of a program, most of whose pieces are alike: few kinds of rows, and calls that come to an end."""
+    names = ["main"] + ["p" + chr(97 + k) for k in range(rng.randrange(3, 8))]
+    pieces = []
+    for k, x in enumerate(names):
+        rest = names[k + 1:]
+        rows = [(("call", y),) for y in rng.sample(rest, min(len(rest), rng.choice((1, 2))))] if rest else []
+        rows = [row for held in rows for row in held] + [("show", 0)] * rng.randrange(2)
+        if k == 0:
+            rows = [("call", y) for y in rest]
+        pieces.append(("piece", x, "code", "open" if k == 0 else "own", "strong", tuple(rows) + (("return",),)))
+    thing = assembled(("unit", "u", (), (), tuple(pieces)))
+    return (("plan", ("program", "main"), (item(thing),)),)
+
+
 def images_for(world):
     """The program's image, then those of the libraries, in the order of the world."""
     images = [linked(line, goal) for _, goal, line in world]
