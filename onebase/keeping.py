@@ -73,9 +73,12 @@ def ways_to(web, knot):
 def is_road(web, knot, thing):
     """BadWeb, BadKnot; whether any value is a road to the knot."""
     check_knot(web, knot)
-    if not are_numbers_below(thing, len(web[3])) or not thing:
-        return False
-    if thing[0] not in web[1] or thing[-1] != knot:
+    return is_road_in(web, thing) and thing[-1] == knot
+
+
+def is_road_in(web, thing):
+    """Whether any value is a road to its last knot, of a web that is known to be right."""
+    if not are_numbers_below(thing, len(web[3])) or not thing or thing[0] not in web[1]:
         return False
     return all(there in leads_in(web, here) for here, there in zip(thing, thing[1:]))
 

@@ -100,18 +100,29 @@ def classes(web):
 
 def classes_in(web):
     """As classes, of a web that is known to be right."""
+    return lots_of(rounds_in(web)[-1])
+
+
+def rounds_in(web):
+    """Round by round, by kept knots, numbers that are equal for those not yet told apart."""
     knots = kept_in(web)
     fronts = numbered({knot: front_in(web, knot) for knot in knots})
     steps = {knot: steps_of(web, knot) for knot in knots}
-    number = fronts
+    rounds = [fronts]
     many = 0
-    while many < count_of(number):
+    while many < count_of(rounds[-1]):
+        number = rounds[-1]
         many = count_of(number)
-        number = numbered({
+        rounds.append(numbered({
             knot: (fronts[knot], tuple([number[step] for step in steps[knot]])) for knot in knots
-        })
+        }))
+    return rounds
+
+
+def lots_of(number):
+    """The ascending lots of the knots with equal numbers; knots are keys in ascending order."""
     lots = {}
-    for knot in knots:
+    for knot in number:
         lots.setdefault(number[knot], []).append(knot)
     return tuple(sorted([tuple(lot) for lot in list(lots.values())]))
 

@@ -24,6 +24,10 @@ class Part:
         """The pieces that are not own, in order."""
         return [piece for piece in self.unit[4] if piece[3] != "own"]
 
+    def gives(self):
+        """The names that the object gives."""
+        return [piece[1] for piece in self.shown() if piece[4] == "strong"]
+
     def spares(self):
         """By the names that the object leads to, whether each is a spare."""
         found = {}

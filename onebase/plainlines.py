@@ -90,11 +90,6 @@ class PlainLine:
         return not waiting
 
 
-def given_by(part):
-    """The names that an object gives."""
-    return [piece[1] for piece in part.shown() if piece[4] == "strong"]
-
-
 def closed_parts(read, goal):
     """The objects of the least closed lot of a plain line."""
     givers = {}
@@ -102,7 +97,7 @@ def closed_parts(read, goal):
     for item, shelves in read:
         for shelf in shelves:
             for part in shelf:
-                for x in given_by(part):
+                for x in part.gives():
                     givers[x] = part
         if item[0] == "object":
             found.append(shelves[0][0])
@@ -130,7 +125,7 @@ def wanting_lots(parts, goal):
     found = []
     for part in parts:
         lot = 0
-        for x in given_by(part):
+        for x in part.gives():
             lot = lot | wanting.get(x, 0)
         found.append(lot)
     return found

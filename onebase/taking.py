@@ -10,6 +10,11 @@ def members(line, goal):
 
 def taken(read, goal):
     """The members, taken apart, of what read_line told of the line."""
+    return taking_of(read, goal).taken
+
+
+def taking_of(read, goal):
+    """How members were taken, of what read_line told of the line."""
     taking = Taking(goal)
     for item, shelves in read:
         if item[0] == "object":
@@ -18,7 +23,7 @@ def taken(read, goal):
             taking.pass_card(item[1])
         else:
             take_round(taking, shelves)
-    return taking.taken
+    return taking
 
 
 def take_round(taking, shelves):
@@ -35,23 +40,29 @@ def take_round(taking, shelves):
 
 
 class Taking:
-    """Members so far, and what is open behind them."""
+    """Members so far, and what is open behind them.
+
+    ways has for each member the open names that brought it in, None for one of
+    an object item; wanted has by names the first member that wants each.
+    """
 
     def __init__(self, goal):
         self.taken = []
+        self.ways = []
         self.chosen = {}
         self.entry = goal[1] if goal[0] == "program" else None
         self.defined = {}
         self.exported = {}
         self.wanted = {}
 
-    def take(self, part):
+    def take(self, part, names=None):
+        for x in part.wants():
+            self.wanted.setdefault(x, len(self.taken))
         self.taken.append(part)
+        self.ways.append(names)
         self.chosen[part.unit[1]] = True
         for piece in part.shown():
             self.defined[piece[1]] = True
-        for x in part.wants():
-            self.wanted[x] = True
 
     def pass_card(self, card):
         for x, _, _ in card[3]:
@@ -66,13 +77,9 @@ class Taking:
     def take_first(self, shelf):
         """Takes the first object that gives an open name; whether there was one."""
         for part in shelf:
-            if part.unit[1] not in self.chosen and self.brings(part):
-                self.take(part)
-                return True
-        return False
-
-    def brings(self, part):
-        for piece in part.shown():
-            if piece[4] == "strong" and self.is_sought(piece[1]):
-                return True
+            if part.unit[1] not in self.chosen:
+                names = [x for x in part.gives() if self.is_sought(x)]
+                if names:
+                    self.take(part, names)
+                    return True
         return False

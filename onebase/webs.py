@@ -115,6 +115,10 @@ def check_web(web):
 def check_knot(web, knot):
     """BadWeb, BadKnot: what is raised ahead of all else for a web and one of its knots."""
     check_web(web)
+    check_number(web, knot)
+
+
+def check_number(web, knot):
     if not within(knot, 0, len(web[3]) - 1):
         raise BadKnot("no number of a knot")
 

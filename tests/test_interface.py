@@ -73,6 +73,14 @@ MODULES = {
     "lots": {"lots": "line, goal", "bars": "line, goal"},
     "lotpapers": {"lot_with": "line, goal, lot", "is_lot_with": "line, goal, lot, thing"},
     "moving": {"moved": "world, machine, images, bases=None"},
+    "patches": {"patch": "old, new", "patched": "old, patch", "rifts": "old, new", "is_rifts": "old, new, thing"},
+    "relinking": {"touched": "line, goal, deed"},
+    "roadwords": {"behind": "web, knot, word", "tells": "web, one, other, word", "word_apart": "web, one, other"},
+    "rooms": {"room": "bundle, b, n"},
+    "shapes": {"shape": "web, knot, deep"},
+    "sizes": {"weight": "web, parting", "paper": "web", "is_paper": "web, parting, thing"},
+    "swapping": {"swaps": "line, goal, one, other", "is_swaps": "line, goal, one, other, thing"},
+    "wantpapers": {"want_paper": "line, goal", "is_want_paper": "line, goal, thing"},
 }
 
 # The interface's classes, by their files: the parameters of each, and its methods with theirs.
@@ -81,6 +89,7 @@ CLASSES = {
     "machine": {"Machine": ("program, libraries, inputs, bases=None, late=False", {
         "step": "", "go": "rows", "copy": "", "state": "", "held": "", "spot": "address"})},
     "desk": {"Desk": ("", {"say": "line"})},
+    "relinking": {"Relinker": ("line, goal", {"line": "", "goal": "", "do": "deed", "undo": "", "image": "", "release": ""})},
 }
 
 # Modules that the interface does not list, and behind which of its own they come.
