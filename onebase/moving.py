@@ -36,6 +36,7 @@ def moved(world, machine, images, bases=None):
     left.reverse()
     made = Machine(images[0], images[1:], left, bases, machine.late)
     made.address = move.address_of(made, here)
+    # Code never ends in a call: behind each there is a row.
     made.stack = [move.address_of(made, (k, b, row + 1)) for k, b, row in waiting]
     made.registers = list(machine.registers)
     made.places = [move.place_of(made, place) for place in machine.places]
@@ -124,10 +125,10 @@ class Move:
         return None
 
     def address_of(self, made, spot):
-        """Where the made machine has a row; a number behind the last one tells the body's end."""
+        """Where the made machine has a row."""
         k, b, row = spot
-        _, end, _, rows = self.images[k][12][b]
-        return made.bases[k] + (rows[row] if row < len(rows) else end)
+        _, _, _, rows = self.images[k][12][b]
+        return made.bases[k] + rows[row]
 
     def place_of(self, made, address):
         """The place of the same knot."""

@@ -144,6 +144,7 @@ class SpeedTest(unittest.TestCase):
         line = tuple(archive("a" + chr(97 + k), units[k], units[k + 12]) for k in range(12))
         for _ in range(5):
             self.assertEqual(groups(line, MAIN), (tuple(range(12)),))
+        self.assertIs(is_groups(line, MAIN, (tuple(range(12)),)), True)
         self.assertLess(time.process_time() - began, 20)
 
 

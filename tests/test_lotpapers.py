@@ -170,6 +170,13 @@ class JudgeTest(unittest.TestCase):
                 (("o",), ("wants", "f", "o", ()), False)):
             self.assertEqual(plainlots.is_lot_with(line, MAIN, lot, ("bar", ((lot, why),))), right, why)
             self.assertIs(is_lot_with(line, MAIN, lot, ("bar", ((lot, why),))), right, why)
+        # The lots of the steps told in rows must have the definers' units, whatever else they have.
+        line = (item(U), archive("aa", made("b", calls("f"), calls("x", "zz")), made("c", calls("main"))))
+        two, none = (("c",), ("two", "main", "u", "c")), (("b",), ("wants", "zz", "b", ()))
+        for steps, right in (((none, ((), ("wants", "f", "u", (0,)))), True), ((two, (("b",), ("wants", "f", "u", (0,)))), False), ((two, (("b", "c"), ("wants", "f", "u", (0,)))), False),
+                             ((none, two, ((), ("wants", "f", "u", (1,)))), False), ((none, two, (("c",), ("wants", "f", "u", (0,)))), True), ((none, ((), ("wants", "f", "u", (1,)))), False)):
+            self.assertEqual(plainlots.is_lot_with(line, MAIN, ("b", "c"), ("bar", steps)), right)
+            self.assertIs(is_lot_with(line, MAIN, ("b", "c"), ("bar", steps)), right)
         # The entry, of which cards tell nothing.
         line = (library("li", (), (("main", "code", 0),)),)
         for why, right in ((("wants", "main", None, ()), True), (("wants", "main", "li", ()), False), (("wants", "f", None, ()), False)):

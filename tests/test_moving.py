@@ -119,6 +119,14 @@ class MovedTest(InStep, unittest.TestCase):
         told = moved((("plan", MAIN, line),), machine, (linked(line, MAIN),))
         self.assertEqual(told.state()[0], (("", (("u", "f"),), 0), ("", (("u", "main"),), 0)))
         self.assertEqual(told.go(5), 3)
+        # To any other image the words of Split hold: the whole lot is asked for.
+        world = (("plan", MAIN, line),)
+        split = ("Split", {"name": "", "lot": (("u", "f"), ("u", "g")), "row": 0})
+        for other in (image_with(bundle, branches(bundle)), image_of(bundle[:2] + (1,) + bundle[3:7] + ((bundle[7][1], bundle[7][0][:3] + (
+                (("call", 0), ("return",)),)),))):
+            self.assertTrue(carries(line, MAIN, other))
+            self.assertEqual(raised(moved, world, machine, (other,)), split)
+        self.assertEqual(raised(moved, world, machine, (image_with(bundle[:7] + ((bundle[7][0], both),), ((0, 0),)),))[0], "told")
 
     def test_what_goes_along(self):
         """Registers, events, inputs, places, data and rooms; late slots are to be bound anew."""

@@ -58,6 +58,10 @@ class OrderTest(unittest.TestCase):
                 self.assertEqual(raised(order, line, goal), ("Missing", {"names": ("f",)}))
             else:
                 self.assertEqual(order(line, goal), told)
+        # A library's own name is no entry: of these two the second waits for the first.
+        line = (archive("a", made("v", calls("f", "g"))), archive("b", R), item(made("w", calls("x", "f"))), archive("c", Q))
+        self.assertEqual(order(line, ("library", "g")), ("order", (2, 0, 1, 3)))
+        self.assertEqual(order((line[1],) + line[:1] + line[2:], ("library", "g")), ("order", (2, 1, 0, 3)))
         # A knot of an archive that waits for itself through another.
         line = (archive("a", P, Q), archive("b", R), item(U))
         self.assertEqual(order(line, MAIN), ("knot", (0, 1)))

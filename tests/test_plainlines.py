@@ -46,6 +46,8 @@ class NeededTest(unittest.TestCase):
                 # Data and rooms are given, too; tables and takes want.
                 ((item(made("r", code("g", ("load", 0, "d", 0), ("return",)), piece("t", "table", ("h",)))), archive("one", Q),
                   archive("two", made("v", piece("d", "room", 2)))), ("library", "lz"), ("q", "r", "v")),
+                # A library's own name is no entry.
+                ((archive("one", P, Q), item(made("v", calls("a", "h")))), ("library", "f"), ("q", "v")),
                 # What wants what it has itself brings nothing in.
                 ((archive("one", made("v", calls("f", "f"))),), ("library", "lz"), ()),
                 ((archive("one", made("v", calls("f", "f"))),), ("program", "f"), ("v",))):

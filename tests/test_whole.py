@@ -9,15 +9,24 @@ from onebase.carrying import carries
 from onebase.deeds import after
 from onebase.files import file_of, read_file
 from onebase.images import image_with, linked
+from onebase.keeping import kept
 from onebase.loading import bases_for, memory, scope
 from onebase.machine import Machine, run_images
 from onebase.objects import assembled, unit_of
+from onebase.parting import classes
+from onebase.patches import patched
 from onebase.playing import run_world
+from onebase.readback import long_in, read_back
+from onebase.relinking import Relinker
+from onebase.sizes import is_paper, paper, weight
+from onebase.taking import members
 from onebase.texts import read_unit, unit_text
 from onebase.traces import lies_in
+from onebase.webs import web_of
+from onebase.widths import forced, is_forced
 from tests import worlds
 from tests.instep import InStep, one_carrying
-from tests.support import calls, code, item, made, piece
+from tests.support import calls, code, item, made, piece, raised
 from tests.test_meaning import card_item, lib, program
 
 
@@ -187,6 +196,54 @@ class HeartTest(unittest.TestCase):
                 self.assertEqual((line, goal), was)
                 images.append(linked(line, goal))
             self.check(world, tuple(images), inputs, rng)
+
+    def test_relinked_by_patches(self):
+        """[61]: whoever did all patches in order has the files; behind deeds and undos the images show the same."""
+        for seed in range(60):
+            rng, world, inputs = drawn(seed)
+            images = []
+            for _, goal, line in world:
+                more = item(assembled(worlds.one_unit(rng, "more", ())))
+                held, file = Relinker(line, goal), ()
+                for _ in range(rng.randrange(6)):
+                    at = rng.randrange(len(held.line()) + 1)
+                    deed = rng.choice((("put", at, more), ("take", at), ("exchange", at, more), ("goal", ("library", "zl"))))
+                    raised(held.do, deed)
+                    told = raised(held.release)
+                    if told[0] == "told":
+                        self.assertEqual(told[1][0], file)
+                        file = patched(file, told[1][1])
+                while held.undo():
+                    pass
+                self.assertEqual((held.line(), held.goal()), (line, goal))
+                old, patch = held.release()
+                self.assertEqual(old, file)
+                images.append(read_file(patched(file, patch)))
+                self.assertEqual(images[-1], linked(line, goal))
+            self.check(world, tuple(images), inputs, rng)
+
+    def test_each_is_least_and_has_a_paper(self):
+        """[180]: the pieces kept, the bodies and the long branches, each with a paper that a judge takes."""
+        long = 0
+        for seed in range(120):
+            rng, world, _ = drawn(seed)
+            for _, goal, line in world:
+                web, image = web_of(line, goal), linked(line, goal)
+                bundle = read_back(image)
+                self.assertEqual(bundle, bundle_of(line, goal))
+                self.assertIs(is_paper(web, classes(web), paper(web)), True)
+                self.assertIs(is_forced(bundle, forced(bundle)), True)
+                self.assertEqual(tuple(sorted(forced(bundle))), long_in(image))
+                self.assertIs(carries(line, goal, image), True)
+                # Each body is of kept pieces, and of each kept one there is one.
+                units = [o[1] for o in members(line, goal)]
+                pairs = {pair for _, _, lot, _ in image[12] for pair in lot}
+                self.assertEqual(pairs, {(units[web[3][k][1][0]], web[3][k][1][1]) for k in kept(web)})
+                self.assertEqual((len(bundle[7]), sum(part[3] if part[1] == "room" else len(part[3]) for part in bundle[7])), weight(web, classes(web)))
+                other = one_carrying(rng, line, goal)
+                self.assertGreaterEqual(len(other[12]), len(image[12]))
+                long += len(long_in(image))
+        self.assertGreater(long, 5)
 
     def test_a_world_by_hand(self):
         """A try over a library's code, which fails in a body that another piece shares."""
