@@ -39,16 +39,16 @@ class Showing:
     def show(self, lot):
         """The number of a step, added if need be, whose lot lies in the bar."""
         if lot not in self.shown:
-            self.shown[lot] = self.find(lot)
+            self.shown[lot] = self.step_for(lot)
         return self.shown[lot]
 
-    def find(self, lot):
+    def step_for(self, lot):
         double = self.holding.double_in(lot)
         if double is not None:
             mask, x, a, b = double
-            return self.add(mask, ("two", x, a, b))
+            return self.put(mask, ("two", x, a, b))
         # With any one definer more it is a bar, too: of these is shown first.
-        mask, x, a, definers = self.holding.want_in(lot)
+        mask, x, a, definers = self.holding.demand_in(lot)
         rows = []
         for at in definers:
             bit = self.holding.bit[self.holding.names[at]]
@@ -57,9 +57,9 @@ class Showing:
                 return row
             rows.append(row)
             mask = mask | (self.lots[row] - bit)
-        return self.add(mask, ("wants", x, a, tuple(rows)))
+        return self.put(mask, ("wants", x, a, tuple(rows)))
 
-    def add(self, lot, why):
+    def put(self, lot, why):
         self.steps.append((self.holding.told(lot), why))
         self.lots.append(lot)
         return len(self.steps) - 1
@@ -103,7 +103,7 @@ def least_lot(holding, why, ahead):
         return None
     if not is_tagged(why, "wants", 4) or not are_numbers_below(why[3], len(ahead)):
         return None
-    for lot, x, a, definers in holding.wants:
+    for lot, x, a, definers in holding.demands:
         if is_told(why[1:3], (x, a)):
             return with_rows(holding, lot, definers, [ahead[row] for row in why[3]])
     return None

@@ -39,10 +39,10 @@ class Holding:
     """What lots of a line must have to hold, of what read_line told of it.
 
     Lots are numbers with a bit for each unit of archives; those of object
-    items, which always are members, have none; many is how many lots there are.
-    parts has all objects in the order of the line. doubles are (lot, name, unit, unit), the lot not to be
-    had together; wants (lot, name, unit or None, definers): with all of the lot
-    one of the definers, numbers of parts, is to be had.
+    items, which always are members, have none. many is how many lots there
+    are, parts has all objects in the order of the line. doubles are (lot, name,
+    unit, unit): the lot is not to be had together. demands are (lot, name, unit
+    or None, definers): with the lot one of these parts, by number, is to be had.
     """
 
     def __init__(self, read, goal):
@@ -65,14 +65,14 @@ class Holding:
         # What an object item defines is never missing.
         settled = {x: True for x in self.definers if self.is_defined_by(x, fixed)}
         exported = {x: True for card in cards_in([item for item, _ in read]) for x, _, _ in card[3]}
-        self.wants = []
+        self.demands = []
         if goal[0] == "program" and goal[1] not in settled:
-            self.wants.append((0, goal[1], None, self.defining(goal[1])))
+            self.demands.append((0, goal[1], None, self.defining(goal[1])))
         for part in self.parts:
             for x in part.wants():
                 if x not in settled and x not in exported:
                     name = part.unit[1]
-                    self.wants.append((self.bit.get(name, 0), x, name, self.defining(x)))
+                    self.demands.append((self.bit.get(name, 0), x, name, self.defining(x)))
 
     def is_defined_by(self, x, units):
         """Whether one of these units defines the name."""
@@ -118,16 +118,16 @@ class Holding:
                 return double
         return None
 
-    def want_in(self, lot):
-        """The first want that the lot has and does not meet, None if there is none."""
-        for want in self.wants:
-            if want[0] & lot == want[0] and not any(
-                    self.bit[self.names[at]] & lot for at in want[3]):
-                return want
+    def demand_in(self, lot):
+        """The first demand that the lot has and does not meet, None if there is none."""
+        for demand in self.demands:
+            if demand[0] & lot == demand[0] and not any(
+                    self.bit[self.names[at]] & lot for at in demand[3]):
+                return demand
         return None
 
     def holds(self, lot):
-        return self.double_in(lot) is None and self.want_in(lot) is None
+        return self.double_in(lot) is None and self.demand_in(lot) is None
 
     def extendable(self):
         """For each lot whether it lies in one that holds."""
