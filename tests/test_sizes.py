@@ -124,6 +124,11 @@ class PaperTest(unittest.TestCase):
             told = paper(held)
             self.assertTrue(plain_is_paper(held, lots, told))
             self.assertIs(is_paper(held, lots, told), True)
+            # In any order of the classes, of the roads and of the words.
+            mixed = [list(lots), list(told[1]), list(told[2])]
+            for some in mixed:
+                rng.shuffle(some)
+            self.assertIs(is_paper(held, tuple(mixed[0]), ("paper", tuple(mixed[1]), tuple(mixed[2]))), True)
             self.assertEqual(len(told[1]), len(kept(held)))
             self.assertLess(len(told[2]), max(len(lots), 1))
 
@@ -167,6 +172,11 @@ class PaperTest(unittest.TestCase):
                 self.assertFalse(right and by_kind)
             for other in itertools.chain(weird_near(lots), WEIRD):
                 self.assertIs(is_paper(some, other, told), plain_is_paper(some, other, told))
+
+    def test_lots_that_are_none(self):
+        for lots in (FIVE_LOTS + ((),), ((),) + FIVE_LOTS, FIVE_LOTS + ((4,),), FIVE_LOTS + ((0, 1, 2),), ((0, 1), (2,), (3,), (4,)), ((0, 1, 2), (4,)),
+                     ((0, 2, 1), (3,), (4,)), ((0, 0, 1, 2), (3,), (4,)), (), ((),)):
+            self.assertIs(is_paper(FIVE, lots, FIVE_PAPER), False)
 
     def test_words_of_two_hundred(self):
         for many, right in ((200, True), (201, False)):

@@ -5,8 +5,9 @@ import unittest
 
 from onebase.orders import is_order, order
 from onebase.swapping import is_swaps, swaps
+from tests import plainlots
 from tests.making import loose_line
-from tests.support import WEIRD, archive, item, near, raised, weird_near
+from tests.support import WEIRD, archive, calls, item, made, near, raised, weird_near
 from tests.test_orders import CHAIN, drawn
 from tests.test_plainlines import LINE, MAIN, P, Q, R, U
 
@@ -39,6 +40,15 @@ class SwapsTest(unittest.TestCase):
         self.assertIs(is_swaps(line=line, goal=MAIN, one=(0, 1, 2), other=(1, 2, 0), thing=(0, 1)), True)
         for thing in ((1, 0), (0,), (), (0, 1, 1, 1), (0, 2), (0, -1), [0, 1], (0, 1.0), (False, 1)):
             self.assertIs(is_swaps(line, MAIN, (0, 1, 2), (1, 2, 0), thing), False)
+
+    def test_ways_that_leave_the_full_orders(self):
+        """What two want comes behind either; as short a way goes over an order in which it stands ahead of both."""
+        line = (item(made("v", calls("x", "h"))), archive("a", Q), item(made("w", calls("y", "h"))))
+        goal = ("library", "lz")
+        self.assertEqual(plainlots.Orders(line, goal).fulls(), [(0, 1, 2), (0, 2, 1), (2, 0, 1), (2, 1, 0)])
+        for thing, right in (((1, 0, 1), True), ((0, 1, 0), False), ((1, 0), False), ((1, 1, 1, 0, 1), False)):
+            self.assertIs(is_swaps(line, goal, (0, 1, 2), (2, 1, 0), thing), right)
+        self.assertEqual(swaps(line, goal, (0, 1, 2), (2, 1, 0)), (1, 0, 1))
 
     def test_by_neighbours(self):
         """HEART: there is a way between any two full orders, no longer than it must be."""
