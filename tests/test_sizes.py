@@ -139,7 +139,7 @@ class PaperTest(unittest.TestCase):
             lots = classes(held)
             told = paper(held)
             words = tuple(itertools.islice((w for many in range(4) for w in itertools.product(range(4), repeat=many)), 85))
-            full = ("paper", told[1], words)
+            full = ("paper", told[1], words + told[2])
             for other in plainlink.partings(list(kept(held))):
                 right = sorted(other) == list(lots)
                 for thing in (told, full):
