@@ -89,7 +89,8 @@ def reaching(web, knots):
     found = {knot: True for knot in knots}
     waiting = list(knots)
     while waiting:
-        for leader in leaders[waiting.pop()]:
+        here = waiting.pop()
+        for leader in leaders[here]:
             if leader not in found:
                 found[leader] = True
                 waiting.append(leader)

@@ -14,9 +14,10 @@ def swaps(line, goal, one, other):
     for at, n in enumerate(other):
         # What stands next in the other order comes behind those laid so far, so
         # behind more of them too: on its way there all orders are full.
-        for here in range(now.index(n), at, -1):
-            found.append(here - 1)
-            exchange(now, here - 1)
+        place = now.index(n)
+        for here in range(place - 1, at - 1, -1):
+            found.append(here)
+            exchange(now, here)
     return tuple(found)
 
 
