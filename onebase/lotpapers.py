@@ -86,16 +86,15 @@ def lots_shown(holding, thing):
     for step in thing:
         if not isinstance(step, tuple) or len(step) != 2 or not holding.is_lot(step[0]):
             return None
-        lot = holding.lot_of(step[0])
-        least = least_lot(holding, step[1], found)
-        if least is None or least & lot != least:
+        lot = lot_told(holding, step[1], found)
+        if lot is None or lot != holding.lot_of(step[0]):
             return None
         found.append(lot)
     return found
 
 
-def least_lot(holding, why, ahead):
-    """What the lot of a step with this why must have, behind steps with lots; None if no why."""
+def lot_told(holding, why, ahead):
+    """The lot of a step with this why, behind steps with these lots; None if it is no why."""
     if is_tagged(why, "two", 4):
         for double in holding.doubles:
             if is_told(why[1:], double[1:]):
@@ -110,7 +109,7 @@ def least_lot(holding, why, ahead):
 
 
 def with_rows(holding, lot, definers, rows):
-    """The lot with all of the rows' lots, but of each its definer; None if it lacks that one."""
+    """The lot and all of the rows' lots, but of each its definer; None if one lacks its own."""
     if len(rows) != len(definers):
         return None
     for at, row in zip(definers, rows):

@@ -201,7 +201,7 @@ def is_step(step, ahead, line, goal):
         firm = all(r[4] == "strong" and r[2] != "room" for r in (p, q))
         if not firm and plainlink.line_sort(p) == plainlink.line_sort(q):
             return False
-        return {a, b} & set(inner) <= set(lot)
+        return set(lot) == {a, b} & set(inner)
     if why[0] != "wants" or type(b) is not tuple or any(type(k) is not int or not 0 <= k < len(ahead) for k in b):
         return False
     if a is None:
@@ -216,8 +216,8 @@ def is_step(step, ahead, line, goal):
     due = [o[1] for o in movable(line) if x in shown(o)]
     if len(due) != len(b) or any(unit not in ahead[k] for unit, k in zip(due, b)):
         return False
-    least = {u for unit, k in zip(due, b) for u in ahead[k] if u != unit} | ({a} & set(inner))
-    return least <= set(lot)
+    told = {u for unit, k in zip(due, b) for u in ahead[k] if u != unit} | ({a} & set(inner))
+    return set(lot) == told
 
 
 def is_paper(thing, line, goal):

@@ -5,7 +5,7 @@ import unittest
 
 from onebase.lotpapers import is_lot_with, lot_with
 from onebase.lots import bars, lots
-from tests import plainlots
+from tests import plainlink, plainlots
 from tests.making import loose_line
 from tests.support import WEIRD, archive, calls, code, item, library, made, near, piece, raised, weird_near
 from tests.test_lots import LIB, LINE, S
@@ -113,10 +113,10 @@ class JudgeTest(unittest.TestCase):
                 told = lot_with(line, goal, lot)
                 if told[0] == "lot":
                     continue
-                for _ in range(6):
+                for _ in range(8):
                     steps = [list(step) for step in told[1]]
                     step = rng.choice(steps)
-                    way = rng.randrange(6)
+                    way = rng.randrange(8)
                     why = list(step[1])
                     if way == 0:
                         step[0] = tuple(sorted(set(step[0]) ^ {rng.choice(names)} if names else ()))
@@ -130,8 +130,11 @@ class JudgeTest(unittest.TestCase):
                         why[3] = tuple(rng.randrange(len(steps)) for _ in why[3])
                     elif way == 4 and len(steps) > 1:
                         steps.remove(step)
-                    else:
+                    elif way == 5:
                         rng.shuffle(steps)
+                    else:
+                        # Told a second time a step is right; whether it can be the last one hangs on its lot.
+                        steps.insert(len(steps) - (way == 7), step)
                     step[1] = tuple(why)
                     thing = ("bar", tuple(map(tuple, steps)))
                     right = plainlots.is_lot_with(line, goal, lot, thing)
@@ -154,6 +157,81 @@ class JudgeTest(unittest.TestCase):
             self.assertIs(told, set(paper[-1][0]) <= set(lot))
             self.assertFalse(told and "p" not in lot)
 
+    def same(self, line, steps, right):
+        """The steps as a paper, for the lot of all units of archives, by both readings."""
+        every = plainlots.names_of(plainlots.movable(line))
+        self.assertIs(plainlots.is_lot_with(line, MAIN, every, ("bar", steps)), right, steps)
+        self.assertIs(is_lot_with(line, MAIN, every, ("bar", steps)), right, steps)
+
+    def only(self, line, ahead, why, *lots_told):
+        """Behind these steps a step with this why is right with the lots told, none or one, and with no other."""
+        for lot in plainlots.lots_of(plainlots.names_of(plainlots.movable(line))):
+            self.same(line, ahead + ((lot, why),), lot in lots_told)
+
+    def test_no_other_units_in_lots(self):
+        # Neither of two stands in an archive, one does, both do; b and c have data and code d.
+        line = (item(made("u", calls("main"))), archive("aa", made("r", calls("g")), made("w", calls("main"), piece("d", "data", (1,)))), item(made("v", calls("main"))),
+                ("round", (archive("ab", made("x", code("d", force="weak"))), archive("ac", made("y", calls("zz", "zy"))))))
+        for why, lot in ((("two", "main", "u", "v"), ()), (("two", "main", "u", "w"), ("w",)), (("two", "main", "w", "v"), ("w",)), (("two", "d", "w", "x"), ("w", "x"))):
+            self.only(line, (), why, lot)
+        for why in (("two", "main", "v", "u"), ("two", "g", "r", "w"), ("two", "main", "r", "w")):
+            self.only(line, (), why)
+        self.only(line, (), ("wants", "zy", "y", ()), ("y",))
+
+    def test_what_is_left_of_rows(self):
+        # b, which has f, wants k, which c has; c has x together with d and e, which are not wanted.
+        line = (item(U), archive("aa", made("b", calls("f", "k")), made("c", calls("k"), calls("x"))), archive("ab", made("d", calls("x")), made("e", calls("x"))))
+        steps = ((("c", "d"), ("two", "x", "c", "d")), (("c", "e"), ("two", "x", "c", "e")), (("b", "d"), ("wants", "k", "b", (0,))), (("b", "e"), ("wants", "k", "b", (1,))))
+        for many, (lot, why) in enumerate(steps):
+            self.only(line, steps[:many], why, lot)
+        self.only(line, steps, ("wants", "f", "u", (2,)), ("d",))
+        self.only(line, steps, ("wants", "f", "u", (3,)), ("e",))
+        self.only(line, steps, ("wants", "f", "u", (0,)))
+        self.only(line, steps, ("wants", "k", "b", (2,)))
+
+    def test_definers_that_come_back(self):
+        # p and q both have f and want what is nowhere; each one's unit is left out of its own row's lot alone.
+        line = (item(U), archive("aa", made("p", calls("f", "zz")), made("q", calls("f"), calls("y", "zy"))))
+        both, p, q = (("p", "q"), ("two", "f", "p", "q")), (("p",), ("wants", "zz", "p", ())), (("q",), ("wants", "zy", "q", ()))
+        ahead = (both, p, q)
+        for rows, lot in (((1, 2), ()), ((0, 2), ("q",)), ((1, 0), ("p",)), ((0, 0), ("p", "q"))):
+            self.only(line, ahead, ("wants", "f", "u", rows), lot)
+        for rows in ((2, 1), (1,), (2,), (), (1, 2, 2), (1, 1), (1, 3)):
+            self.only(line, ahead, ("wants", "f", "u", rows))
+        # Who wants a name that it has itself stands in the step's lot, though its row's lot is told without it.
+        line = (archive("aa", made("p", calls("f", "f")), made("q", calls("f"), calls("main"))), item(made("u", calls("main"))))
+        both, q = (("p", "q"), ("two", "f", "p", "q")), (("q",), ("two", "main", "q", "u"))
+        self.only(line, (both, q), ("wants", "f", "p", (0, 1)), ("p", "q"))
+        self.only(line, (both, q), ("wants", "f", "p", (0, 0)), ("p", "q"))
+        self.only(line, (both, q), ("wants", "f", "q", (0, 1)))
+
+    def test_one_lot_for_each_why(self):
+        """Of drawn lines: behind steps that are right at most one lot is, and just what the second reading tells."""
+        seen = {0: 0, 1: 0}
+        stray = 0
+        for seed in range(60):
+            rng = random.Random(seed)
+            line, goal = loose_line(rng, 5, 0.3, 2)
+            every = plainlots.names_of(plainlots.movable(line))
+            objects = plainlots.objects_of(line)
+            twos = [("two", x, a[1], b[1]) for a, b in itertools.combinations(objects, 2) for x in plainlink.shown(a) if x in plainlink.shown(b)]
+            wants = [(x, o[1]) for o in objects for x in sorted(plainlink.wanted(o))] + [(goal[1], None)]
+            steps = ()
+            for _ in range(30):
+                x, a = rng.choice(wants)
+                due = [o[1] for o in plainlots.movable(line) if x in plainlink.shown(o)]
+                rows = [[k for k, step in enumerate(steps) if unit in step[0]] for unit in due]
+                why = rng.choice(twos) if twos and not all(rows) else ("wants", x, a, tuple(rng.choice(ks) if ks else 0 for ks in rows))
+                right = [lot for lot in plainlots.lots_of(every) if plainlots.is_step((lot, why), [step[0] for step in steps], line, goal)]
+                for lot in plainlots.lots_of(every):
+                    self.assertIs(is_lot_with(line, goal, every, ("bar", steps + ((lot, why),))), lot in right, why)
+                self.assertLess(len(right), 2)
+                seen[len(right)] += 1
+                steps += tuple((lot, why) for lot in right)
+                stray += len(right) > 0 and why[0] == "wants" and right[0] != ()
+        self.assertGreater(min(seen.values()), 300, seen)
+        self.assertGreater(stray, 50)
+
     def test_steps_one_by_one(self):
         own = made("o", code("f", reach="own"), calls("oo", "f"))
         line = (item(made("a", calls("main", "f"), calls("x"))), archive("aa", made("b", calls("f"), piece("d", "data", (1,))), own, made(
@@ -161,7 +239,7 @@ class JudgeTest(unittest.TestCase):
             archive("ab", made("g", piece("r", "room", 2), calls("x"))), library("li", (), (("z", "code", 0),)))
         for lot, why, right in (
                 (("b", "c"), ("two", "d", "b", "c"), True), (("b", "c"), ("two", "f", "b", "c"), False), (("b", "c"), ("two", "d", "c", "b"), False),
-                (("b", "c", "g"), ("two", "d", "b", "c"), True), (("b",), ("two", "d", "b", "c"), False), (("c",), ("two", "d", "b", "c"), False),
+                (("b", "c", "g"), ("two", "d", "b", "c"), False), (("b", "g"), ("two", "x", "a", "g"), False), (("b",), ("two", "d", "b", "c"), False), (("c",), ("two", "d", "b", "c"), False),
                 (("g",), ("two", "x", "a", "g"), True), (("g",), ("two", "r", "e", "g"), False), ((), ("two", "x", "a", "g"), False),
                 (("b", "o"), ("two", "f", "b", "o"), False), (("g",), ("two", "x", "g", "a"), False), (("g",), ("two", "x", "a", "zz"), False),
                 (("g",), ("two", "x", "a", "g", 0), False), ((), ("two", "x", "a", "a"), False), (("g",), ("one", "x", "a", "g"), False),
@@ -170,13 +248,14 @@ class JudgeTest(unittest.TestCase):
                 (("o",), ("wants", "f", "o", ()), False)):
             self.assertEqual(plainlots.is_lot_with(line, MAIN, lot, ("bar", ((lot, why),))), right, why)
             self.assertIs(is_lot_with(line, MAIN, lot, ("bar", ((lot, why),))), right, why)
-        # The lots of the steps told in rows must have the definers' units, whatever else they have.
+        # The lots of the steps told in rows must have the definers' units; the step's lot has what is left of them, and nothing else.
         line = (item(U), archive("aa", made("b", calls("f"), calls("x", "zz")), made("c", calls("main"))))
         two, none = (("c",), ("two", "main", "u", "c")), (("b",), ("wants", "zz", "b", ()))
         for steps, right in (((none, ((), ("wants", "f", "u", (0,)))), True), ((two, (("b",), ("wants", "f", "u", (0,)))), False), ((two, (("b", "c"), ("wants", "f", "u", (0,)))), False),
-                             ((none, two, ((), ("wants", "f", "u", (1,)))), False), ((none, two, (("c",), ("wants", "f", "u", (0,)))), True), ((none, ((), ("wants", "f", "u", (1,)))), False)):
-            self.assertEqual(plainlots.is_lot_with(line, MAIN, ("b", "c"), ("bar", steps)), right)
-            self.assertIs(is_lot_with(line, MAIN, ("b", "c"), ("bar", steps)), right)
+                             ((none, two, ((), ("wants", "f", "u", (0,)))), True), ((none, two, ((), ("wants", "f", "u", (1,)))), False),
+                             ((none, two, (("c",), ("wants", "f", "u", (0,)))), False), ((none, (("b",), ("wants", "f", "u", (0,)))), False), ((none, ((), ("wants", "f", "u", (1,)))), False),
+                             (((("b", "c"), none[1]),), False), (((("b", "c"), two[1]),), False)):
+            self.same(line, steps, right)
         # The entry, of which cards tell nothing.
         line = (library("li", (), (("main", "code", 0),)),)
         for why, right in ((("wants", "main", None, ()), True), (("wants", "main", "li", ()), False), (("wants", "f", None, ()), False)):
